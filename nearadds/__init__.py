@@ -1,0 +1,1 @@
+"""Nearadds: rows whose cells become sums of cells near them, and what is so of all rows."""

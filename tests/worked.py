@@ -1,0 +1,339 @@
+"""What the tests expect, worked out from the document's sentences, apart from the program's own functions."""
+
+from itertools import product
+
+MODULI = {2: [2], 3: [3], 5: [5], 6: [2, 3], 7: [7], 10: [2, 5], 11: [11], 13: [13], 14: [2, 7], 15: [3, 5]}
+PRIMES = [2, 3, 5, 7, 11, 13]
+FAR = 10 ** 60 - 1
+
+
+# Values to try
+
+
+def some_rule(chance, modulus, least=-4, greatest=4, many=None):
+    """A rule with terms at some of the offsets, or at so many of them."""
+    offsets = list(range(least, greatest + 1))
+    many = chance.randint(0, len(offsets)) if many is None else many
+    return modulus, tuple((d, chance.randrange(1, modulus)) for d in sorted(chance.sample(offsets, many)))
+
+
+def some_row(chance, modulus, most=30, near=0, spread=20):
+    """A finite row with cells at places near one."""
+    many = chance.randint(0, most)
+    places = sorted({near + chance.randint(-spread, spread) for _ in range(many)})
+    return modulus, tuple((place, chance.randrange(1, modulus)) for place in places)
+
+
+def some_round(chance, modulus, many):
+    return modulus, tuple(chance.randrange(modulus) for _ in range(many))
+
+
+def some_monic(chance, prime, coefficients):
+    """A polynomial of a prime with the last coefficient 1."""
+    middle = [chance.randrange(prime) for _ in range(coefficients - 2)]
+    return (chance.randrange(1, prime), *middle, 1)
+
+
+# Steps, cell by cell
+
+
+def cell_behind(rule, cell, i):
+    """The cell at i behind a step; cell tells those ahead of it."""
+    return sum(factor * cell(i + offset) for offset, factor in rule[1]) % rule[0]
+
+
+def row_behind(rule, row):
+    """All cells of the places that a step can reach, one by one."""
+    ahead = dict(row[1])
+    places = sorted({place - offset for place in ahead for offset, _ in rule[1]})
+    cells = [(i, cell_behind(rule, lambda at: ahead.get(at, 0), i)) for i in places]
+    return rule[0], tuple((i, value) for i, value in cells if value)
+
+
+def row_behind_all(rule, row):
+    """The same without a thought which places can be reached: all near ones are tried."""
+    ahead = dict(row[1])
+    low, high = min(ahead, default=0) - 50, max(ahead, default=0) + 50
+    cells = [(i, cell_behind(rule, lambda at: ahead.get(at, 0), i)) for i in range(low, high + 1)]
+    return rule[0], tuple((i, value) for i, value in cells if value)
+
+
+def round_behind(rule, row):
+    values = row[1]
+    return rule[0], tuple(cell_behind(rule, lambda at: values[at % len(values)], i) for i in range(len(values)))
+
+
+# Rules, term by term
+
+
+def sum_of(one, other):
+    """Each offset's factors added."""
+    modulus, first, second = one[0], dict(one[1]), dict(other[1])
+    offsets = sorted(set(first) | set(second))
+    sums = [(d, (first.get(d, 0) + second.get(d, 0)) % modulus) for d in offsets]
+    return modulus, tuple((d, c) for d, c in sums if c)
+
+
+def product_of(one, other):
+    """For each offset the sum over all pairs of terms whose offsets add up to it."""
+    modulus, second = one[0], dict(other[1])
+    offsets = sorted({d + e for d, _ in one[1] for e, _ in other[1]})
+    sums = [(d, sum(c * second.get(d - e, 0) for e, c in one[1]) % modulus) for d in offsets]
+    return modulus, tuple((d, c) for d, c in sums if c)
+
+
+def power_of(rule, times):
+    made = (rule[0], ((0, 1),))
+    for _ in range(times):
+        made = product_of(made, rule)
+    return made
+
+
+def left_modulo(rule, prime):
+    return tuple((d, c % prime) for d, c in rule[1] if c % prime)
+
+
+# Polynomials: tuples of coefficients from the power 0 on
+
+
+def times(one, other, prime):
+    made = [0] * (len(one) + len(other) - 1)
+    for k, m in product(range(len(one)), range(len(other))):
+        made[k + m] = (made[k + m] + one[k] * other[m]) % prime
+    return tuple(made)
+
+
+def product_of_all(parts, prime):
+    made = (1,)
+    for factor, often in parts:
+        for _ in range(often):
+            made = times(made, factor, prime)
+    return made
+
+
+def rest_by(one, other, prime):
+    """What is left of a list of coefficients by a polynomial with the last coefficient 1, as many as it has less 1."""
+    left = [value % prime for value in one]
+    while len(left) >= len(other):
+        last = left.pop()
+        for k in range(len(other) - 1):
+            left[len(left) - len(other) + 1 + k] -= last * other[k]
+            left[len(left) - len(other) + 1 + k] %= prime
+    return left + [0] * (len(other) - 1 - len(left))
+
+
+def divides(other, one, prime):
+    return not any(rest_by(one, other, prime))
+
+
+def monics(prime, coefficients):
+    """All polynomials with so many coefficients and the last one 1."""
+    for low in product(range(prime), repeat=coefficients - 1):
+        if low[0]:
+            yield (*low, 1)
+
+
+def is_prime_by_trying(poly, prime):
+    """Whether no shorter polynomial divides one: one of two parts has at most half of the powers."""
+    if len(poly) == 2:
+        return True
+    shorter = range(2, (len(poly) - 1) // 2 + 2)
+    return not any(divides(other, poly, prime) for many in shorter for other in monics(prime, many))
+
+
+def rest_of_x(power, poly, prime):
+    """What a polynomial leaves of x to a power, by squares."""
+    made, square = [1] + [0] * (len(poly) - 2), rest_by([0, 1], poly, prime)
+    while power:
+        if power & 1:
+            made = rest_by(times(made, square, prime), poly, prime)
+        square = rest_by(times(square, square, prime), poly, prime)
+        power >>= 1
+    return made
+
+
+def is_prime_by_powers(poly, prime):
+    """The same of a polynomial whose last power is a prime number n: x ** (prime ** n) is x, and it has no root."""
+    n = len(poly) - 1
+    roots = [x for x in range(prime) if sum(c * x ** k for k, c in enumerate(poly)) % prime == 0]
+    return not roots and rest_of_x(prime ** n, poly, prime) == rest_by([0, 1], poly, prime)
+
+
+def order_by_steps(poly, prime):
+    one = [1] + [0] * (len(poly) - 2)
+    n, power = 1, rest_by([0, 1], poly, prime)
+    while power != one:
+        n, power = n + 1, rest_by([0] + power, poly, prime)
+    return n
+
+
+def common_by_trying(one, other, prime):
+    """The longest of all polynomials with the last coefficient 1 that divide two lists of coefficients."""
+    found = (1,)
+    for many in range(2, min(len(one), len(other)) + 1):
+        for poly in monics(prime, many):
+            if divides(poly, one, prime) and divides(poly, other, prime):
+                found = poly
+    return found
+
+
+def coefficients(rule, prime):
+    """What is left of a rule modulo a prime, from the least offset to the greatest one; () if nothing is."""
+    left = dict(left_modulo(rule, prime))
+    return tuple(left.get(d, 0) for d in range(min(left), max(left) + 1)) if left else ()
+
+
+# What any object is, as the document tells
+
+
+def same(one, other):
+    """Whether two values are the same, their kinds too: True is not 1, a list is no tuple."""
+    if type(one) is not type(other):
+        return False
+    if type(one) in (list, tuple):
+        return len(one) == len(other) and all(same(a, b) for a, b in zip(one, other))
+    return one is other or one == other
+
+
+def told_integer(value, least=None, greatest=None):
+    if type(value) is not int:
+        return False
+    return (least is None or least <= value) and (greatest is None or value <= greatest)
+
+
+def told_tuple(value, *lengths):
+    return type(value) is tuple and (not lengths or len(value) in lengths)
+
+
+def told_pairs(value, modulus):
+    if not told_tuple(value):
+        return False
+    for part in value:
+        if not (told_tuple(part, 2) and told_integer(part[0]) and told_integer(part[1], 1, modulus - 1)):
+            return False
+    firsts = [part[0] for part in value]
+    return firsts == sorted(set(firsts))
+
+
+def told_whole(value):
+    return told_tuple(value, 2) and told_integer(value[0]) and value[0] in list(MODULI)
+
+
+def told_rule(value):
+    return told_whole(value) and told_pairs(value[1], value[0])
+
+
+def told_round(value):
+    if not (told_whole(value) and told_tuple(value[1]) and value[1]):
+        return False
+    return all(told_integer(v, 0, value[0] - 1) for v in value[1])
+
+
+def told_program(value):
+    if not (told_whole(value) and told_tuple(value[1])):
+        return False
+    for part in value[1]:
+        if not (told_tuple(part, 2) and told_pairs(part[0], value[0]) and told_integer(part[1], 0, 10 ** 30)):
+            return False
+    return True
+
+
+def told_parts(modulus, value):
+    if type(value) is not list or len(value) != len(MODULI[modulus]):
+        return False
+    return all(told_pairs(part, prime) for part, prime in zip(value, MODULI[modulus]))
+
+
+def told_factor(prime, value):
+    if not (told_tuple(value) and len(value) > 1 and all(told_integer(c, 0, prime - 1) for c in value)):
+        return False
+    return value[0] != 0 and value[-1] == 1 and is_prime_by_trying(value, prime)
+
+
+def told_entry(prime, value):
+    if not (told_tuple(value, 1, 4) and told_integer(value[0], prime, prime)):
+        return False
+    if len(value) == 1:
+        return True
+    if not (told_integer(value[1]) and told_integer(value[2], 1, prime - 1) and told_tuple(value[3])):
+        return False
+    for part in value[3]:
+        if not (told_tuple(part, 2) and told_factor(prime, part[0]) and told_integer(part[1], 1)):
+            return False
+    factors = [part[0] for part in value[3]]
+    return factors == sorted(set(factors))
+
+
+def told_factored(modulus, value):
+    if type(value) is not list or len(value) != len(MODULI[modulus]):
+        return False
+    return all(told_entry(prime, entry) for prime, entry in zip(MODULI[modulus], value))
+
+
+# Objects that are none
+
+
+def deep(kind, levels):
+    made = kind()
+    for _ in range(levels - 1):
+        made = kind([made])
+    return made
+
+
+class Odd:
+    """An object that is compared and measured with nothing."""
+
+    def __eq__(self, other):
+        raise AssertionError("an object of another kind was compared")
+
+    def __len__(self):
+        raise AssertionError("an object of another kind was measured")
+
+    __hash__ = None
+
+
+def odd_objects():
+    """Objects of all kinds that are no rule, row, program, list of parts or prime factor."""
+    return [
+        None, True, False, 0, 1, 2, 6, -1, FAR, "", "2", "-1*1", b"", b"2", {}, {2: ()}, set(), {2}, frozenset(),
+        object(), Odd(), len, int, tuple, range(2), range(0), NotImplemented, Ellipsis, 1j, iter([]), bytearray(b"2"),
+        (), (2,), (6,), [2, ()], [6, []], (2, []), (2, None), (2, 0), (2, ""), (2, {}), (2, set()), (2, range(0)),
+        (2, (), ()), ((), 2), ("2", ()), (None, ()), (True, ()), (0, ()), (1, ()), (4, ()), (8, ()), (9, ()),
+        (12, ()), (16, ()), (17, ()), (30, ()), (-2, ()), (-3, ()), (2 + FAR, ()), (Odd(), ()), (2, Odd()),
+        (2, (Odd(),)), (2, ((Odd(), Odd()),)), deep(list, 100), deep(tuple, 100), (2, deep(tuple, 99)),
+        {"rule": [2, ()]}, [[[]], ([],)], ({2: [1]}, [1]),
+    ]
+
+
+def spoiled(value):
+    """A value of tuples, lists and integers, each time with one thing in it another one."""
+    if type(value) in (tuple, list):
+        kind, items = type(value), list(value)
+        yield (list if kind is tuple else tuple)(items)
+        yield dict.fromkeys(range(len(items)))
+        yield kind(items + [None])
+        yield kind(items[::-1])
+        for k in range(len(items)):
+            yield kind(items[:k] + items[k + 1:])
+            yield kind(items[:k + 1] + items[k:])
+            yield kind(items[:k] + [items[k:k + 1]] + items[k + 1:])
+            for odd in spoiled(items[k]):
+                yield kind(items[:k] + [odd] + items[k + 1:])
+    else:
+        yield from (value + 1, value - 1, -value, 0, True, False, None, str(value), [value], (value,), FAR, -FAR, Odd())
+
+
+def lists_in(value):
+    """All lists that stand in lists and tuples of a value, itself too."""
+    if type(value) not in (list, tuple):
+        return []
+    inner = [found for part in value for found in lists_in(part)]
+    return [value] + inner if type(value) is list else inner
+
+
+def tuples_in(value):
+    """All tuples, but empty ones, that stand in lists and tuples of a value, itself too."""
+    if type(value) not in (list, tuple):
+        return []
+    inner = [found for part in value for found in tuples_in(part)]
+    return [value] + inner if type(value) is tuple and value else inner
