@@ -195,10 +195,6 @@ class SpoiledInOneThing(Case):
     def test_rules_and_rows(self):
         for m in MODULI:
             rule, row = (m, ((-1, 1), (0, m - 1))), (m, ((0, 1),))
-
-            def of_modulus(value):
-                return told_rule(value) and value[0] == m
-
             for odd in spoiled(rule):
                 if told_rule(odd) and odd[0] != m:
                     self.refused(errors.Unlike, odd[0], rules.plus, rule, odd)
@@ -209,8 +205,7 @@ class SpoiledInOneThing(Case):
                     self.refused(errors.InvalidRule, odd, factors.factored, odd)
                     self.refused(errors.InvalidRow, odd, rules.added, row, odd)
                 else:
-                    self.assertTrue(of_modulus(odd))
-                    rules.plus(rule, odd)
+                    self.same(rules.plus((m, ()), odd), odd)
 
     def test_round_rows(self):
         for m in MODULI:
