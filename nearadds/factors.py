@@ -2,7 +2,7 @@
 
 from nearadds.errors import InvalidFactor, InvalidNumber
 from nearadds.forms import ascends, is_number, is_two, is_within, renewed
-from nearadds.polys import in_both, monic, multiplied, power_of_x
+from nearadds.polys import in_both, monic, power_of_x, product_of
 from nearadds.rules import by_prime, need_rule, need_rules, primes_of, put_together
 from nearadds.splitting import is_unsplit, prime_factors
 
@@ -79,11 +79,8 @@ def terms_of(told):
     if len(told) == 1:
         return ()
     prime, least, last, parts = told
-    product = [last]
-    for factor, times in parts:
-        for _ in range(times):
-            product = multiplied(product, factor, prime)
-    return tuple([(least + k, value) for k, value in enumerate(product) if value])
+    product = product_of(parts, prime)
+    return tuple([(least + k, value * last % prime) for k, value in enumerate(product) if value])
 
 
 def is_factor(prime, value):

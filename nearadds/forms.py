@@ -30,6 +30,13 @@ def is_pairs(value, modulus):
     return ascends([pair[0] for pair in value])
 
 
+def is_remainders(value, many, modulus):
+    """Whether any object is a tuple of so many integers from 0 to modulus - 1."""
+    if not isinstance(value, tuple) or len(value) != many:
+        return False
+    return all([is_within(part, 0, modulus - 1) for part in value])
+
+
 def renewed(value):
     """Any object with each list and tuple in it built anew, so that an error shares none with the caller."""
     if isinstance(value, list):

@@ -1,5 +1,9 @@
 """Polynomials modulo a prime: lists of remainders from the power 0 on, the last one not 0; [] is nought."""
 
+from nearadds.packing import packed, unpacked, width_for
+
+SHORT = 12
+
 
 def trimmed(values, prime):
     """The polynomial of a list of integers, one for each power from 0 on."""
@@ -14,6 +18,16 @@ def inverse(number, prime):
     return [rest for rest in range(prime) if rest * number % prime == 1][0]
 
 
+def power_by(number, times, modulus):
+    """The remainder, by any modulus, of the power of a number to a number from 0 on."""
+    made = 1
+    for at in reversed(range(times.bit_length())):
+        made = made * made % modulus
+        if times >> at & 1:
+            made = made * number % modulus
+    return made
+
+
 def monic(poly, prime):
     """A polynomial, divided by its last coefficient."""
     if not poly:
@@ -24,11 +38,29 @@ def monic(poly, prime):
 
 def multiplied(one, other, prime):
     """The product of two polynomials, none of them nought."""
+    if min(len(one), len(other)) > SHORT:
+        return multiplied_packed(list(one), list(other), prime)
     sums = [0] * (len(one) + len(other) - 1)
     for k, value in enumerate(one):
         for m, factor in enumerate(other):
             sums[k + m] += value * factor
     return trimmed(sums, prime)
+
+
+def multiplied_packed(one, other, prime):
+    """The same of two long polynomials."""
+    width = width_for(prime, min(len(one), len(other)))
+    number = packed(one, width) * packed(other, width)
+    return trimmed(unpacked(number, len(one) + len(other) - 1, width), prime)
+
+
+def product_of(parts, prime):
+    """The product of polynomials, told in tuples (poly, times), none of them nought."""
+    product = [1]
+    for poly, times in parts:
+        for _ in range(times):
+            product = multiplied(product, poly, prime)
+    return product
 
 
 def divided(one, other, prime):

@@ -1,6 +1,6 @@
 """Rules, rows and programs: what they are, and what steps make of them."""
 
-from nearadds.errors import InvalidModulus, InvalidNumber, InvalidRound, InvalidRow, InvalidRule, Unlike
+from nearadds.errors import InvalidModulus, InvalidNumber, InvalidProgram, InvalidRound, InvalidRow, InvalidRule, Unlike
 from nearadds.forms import is_number, is_pairs, is_two, is_within, renewed
 
 PRIMES = {2: (2,), 3: (3,), 5: (5,), 6: (2, 3), 7: (7,), 10: (2, 5), 11: (11,), 13: (13,), 14: (2, 7), 15: (3, 5)}
@@ -16,6 +16,11 @@ def is_modulus(value):
 def has_modulus(value):
     """Whether any object is a tuple of a modulus and one part more."""
     return is_two(value) and is_modulus(value[0])
+
+
+def has_prime(value, modulus):
+    """Whether any object is a tuple of a prime of a modulus and one part more."""
+    return is_two(value) and is_number(value[0]) and value[0] in PRIMES[modulus]
 
 
 def is_rule(value):
@@ -65,6 +70,12 @@ def need_round(value):
         raise InvalidRound(renewed(value))
 
 
+def need_program(value):
+    """Refuses any object that is no program."""
+    if not is_program(value):
+        raise InvalidProgram(renewed(value))
+
+
 def need_same(one, other):
     """Refuses two values with unlike moduli."""
     if one[0] != other[0]:
@@ -75,6 +86,13 @@ def need_rules(one, other):
     """Refuses two objects that are not two rules of one modulus."""
     need_rule(one)
     need_rule(other)
+    need_same(one, other)
+
+
+def need_programs(one, other):
+    """Refuses two objects that are not two programs of one modulus."""
+    need_program(one)
+    need_program(other)
     need_same(one, other)
 
 

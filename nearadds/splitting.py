@@ -5,7 +5,8 @@ sums of multiples of as many of them as f has prime factors. Each of them is one
 so what f and g - r have in common, for all remainders r, are parts that make up f.
 """
 
-from nearadds.polys import divided, in_both, inverse, slope, times_x, trimmed
+from nearadds.equations import cleared, one_at
+from nearadds.polys import divided, in_both, slope, times_x, trimmed
 
 
 def powers_less_own(poly, prime):
@@ -20,13 +21,6 @@ def powers_less_own(poly, prime):
     return rows
 
 
-def cleared(row, pivot, at, prime):
-    """A row less the multiple of another one, which has 1 at an index, that makes it 0 there."""
-    if row[at] == 0:
-        return row
-    return [(value - row[at] * much) % prime for value, much in zip(row, pivot)]
-
-
 def sums_to_nought(rows, prime):
     """Lists of multiples with which rows add up to 0, so many that all others are sums of their multiples."""
     many = len(rows)
@@ -38,12 +32,6 @@ def sums_to_nought(rows, prime):
             pivot = one_at(carried.pop(found[0]), at, prime)
             carried = [cleared(row, pivot, at, prime) for row in carried]
     return [row[many:] for row in carried]
-
-
-def one_at(row, at, prime):
-    """A row divided by what it has at an index."""
-    share = inverse(row[at], prime)
-    return [value * share % prime for value in row]
 
 
 def constants(poly, prime):

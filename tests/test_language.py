@@ -161,6 +161,27 @@ class Code(unittest.TestCase):
             names = defined(tree) + imported
             self.assertEqual(len(names), len(set(names)), path)
 
+    def test_no_name_of_a_function_is_that_of_an_import(self):
+        for path, tree in trees():
+            imported = {alias.name for node in tree.body if isinstance(node, ast.ImportFrom) for alias in node.names}
+            for node in ast.walk(tree):
+                if isinstance(node, ast.FunctionDef):
+                    self.assertFalse(imported & set(bound_names(node)), f"{path}:{node.lineno}")
+
+    def test_iterators_are_not_kept(self):
+        for path, tree in trees():
+            for node in ast.walk(tree):
+                if isinstance(node, ast.Assign) and isinstance(node.value, ast.Call):
+                    called = getattr(node.value.func, "id", getattr(node.value.func, "attr", None))
+                    kept = ("zip", "enumerate", "reversed", "map", "iter", "items", "keys", "values", "combinations")
+                    self.assertNotIn(called, kept, f"{path}:{node.lineno}")
+
+    def test_powers_by_squaring_are_own_functions(self):
+        for path, tree in trees():
+            for node in ast.walk(tree):
+                if isinstance(node, ast.Call) and isinstance(node.func, ast.Name):
+                    self.assertNotIn(node.func.id, ("pow", "bytes", "chr", "frozenset"), f"{path}:{node.lineno}")
+
     def test_nodes_that_are_not_used(self):
         for path, tree in trees():
             told = docstrings(tree)

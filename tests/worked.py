@@ -93,6 +93,104 @@ def left_modulo(rule, prime):
     return tuple((d, c % prime) for d, c in rule[1] if c % prime)
 
 
+# Programs, step by step, and far on
+
+
+def some_program(chance, modulus, most=4, times=4, least=-2, greatest=2):
+    """A program of few steps and few times, some of rules without terms or of 0 times."""
+    steps = []
+    for _ in range(chance.randint(0, most)):
+        many = chance.choice([0] + 8 * list(range(1, greatest - least + 2)))
+        steps.append((some_rule(chance, modulus, least, greatest, many)[1], chance.randint(0, times)))
+    return modulus, tuple(steps)
+
+
+def program_behind(program, row):
+    """The row behind a program, stepped cell by cell."""
+    for terms, often in program[1]:
+        for _ in range(often):
+            row = row_behind((program[0], terms), row)
+    return row
+
+
+def one_cell(modulus):
+    return modulus, ((0, 1),)
+
+
+def first_unlike(one, other):
+    """The least place at which two finite rows have unlike values, and these; None if there is none."""
+    first, second = dict(one[1]), dict(other[1])
+    for place in sorted(set(first) | set(second)):
+        if first.get(place, 0) != second.get(place, 0):
+            return place, first.get(place, 0), second.get(place, 0)
+    return None
+
+
+def by_remainders(modulus, rests):
+    """The remainder that leaves these by the primes of a modulus, found by trying."""
+    return [k for k in range(modulus) if [k % prime for prime in MODULI[modulus]] == list(rests)][0]
+
+
+def traced_back(steps, distance, prime):
+    """What a cell so far on from the one cell 1 becomes modulo a prime, by the figures of the times (F1).
+
+    The distances of the cells that count, with their weights, are gone back step by step. If all times left are
+    multiples of the prime, only distances that are multiples count, and all may be told by the prime.
+    """
+    weights = {distance: 1}
+    steps = [(terms, times) for terms, times in steps if times]
+    while steps:
+        for terms, times in steps:
+            for _ in range(times % prime):
+                further = {}
+                for at, weight in weights.items():
+                    for offset, factor in terms:
+                        further[at + offset] = (further.get(at + offset, 0) + weight * factor) % prime
+                weights = further
+        weights = {at // prime: weight for at, weight in weights.items() if at % prime == 0 and weight}
+        steps = [(terms, times // prime) for terms, times in steps if times // prime or not terms]
+        if any(not terms for terms, _ in steps):
+            return 0
+    return weights.get(0, 0)
+
+
+def far_value(program, row, place):
+    """The value at a place behind a program, by what each cell of the row becomes there."""
+    rests = []
+    for prime in MODULI[program[0]]:
+        steps = [(left_modulo((program[0], terms), prime), times) for terms, times in program[1]]
+        if any(times and not terms for terms, times in steps):
+            rests.append(0)
+        else:
+            rests.append(sum(value * traced_back(steps, place - at, prime) for at, value in row[1]) % prime)
+    return by_remainders(program[0], rests)
+
+
+def first_led(program, prime):
+    """The least place to which a program leads the one cell 1 modulo a prime; None if it makes all 0."""
+    place = 0
+    for terms, times in program[1]:
+        left = left_modulo((program[0], terms), prime)
+        if times and not left:
+            return None
+        place -= times and left[-1][0] * times
+    return place
+
+
+def last_led(program, prime):
+    turned = (program[0], tuple((turned_about(terms), times) for terms, times in program[1]))
+    place = first_led(turned, prime)
+    return None if place is None else -place
+
+
+def turned_about(terms):
+    return tuple(sorted((-d, c) for d, c in terms))
+
+
+def stretched_rule(rule, by):
+    return rule[0], tuple((d * by, c) for d, c in rule[1])
+
+
 # Polynomials: tuples of coefficients from the power 0 on
 
 
@@ -337,3 +435,30 @@ def tuples_in(value):
         return []
     inner = [found for part in value for found in tuples_in(part)]
     return [value] + inner if type(value) is tuple and value else inner
+
+
+# Endless rows that a sum over near cells tells, walked cell by cell
+
+
+def walked(weights, values, low, high, prime):
+    """The cells from low to high of the endless row with these values from 0 on, by their places.
+
+    For each place j the sum of weight times the cell at j + offset, over all pairs (offset, weight), is 0 modulo the
+    prime; the offsets of the first and the last pair are so far from one another as there are values.
+    """
+    least, first = weights[0]
+    greatest, last = weights[-1]
+    cells = dict(enumerate(values))
+    for at in range(len(values), high + 1):
+        total = sum(weight * cells[at - greatest + offset] for offset, weight in weights[:-1])
+        cells[at] = -total * pow(last, -1, prime) % prime
+    for at in range(-1, low - 1, -1):
+        total = sum(weight * cells[at - least + offset] for offset, weight in weights[1:])
+        cells[at] = -total * pow(first, -1, prime) % prime
+    return cells
+
+
+def kept_by(weights, cells, low, high, prime):
+    """Whether all these sums are 0 that need but cells from low to high."""
+    places = range(low - weights[0][0], high - weights[-1][0] + 1)
+    return all(sum(weight * cells[j + offset] for offset, weight in weights) % prime == 0 for j in places)
