@@ -20,7 +20,7 @@ def figures(times, prime):
 
 
 def powers_to(poly, most, prime):
-    """The list of the powers of a polynomial, not nought, from that to 0 to that to most."""
+    """The list of the powers of a polynomial, from that to 0 to that to most."""
     made = [[1]]
     for _ in range(most):
         made.append(multiplied(made[-1], poly, prime))

@@ -22,8 +22,6 @@ def packed(values, width):
 
 def unpacked(number, many, width):
     """The list of the numbers in the lowest shares, so many, of a great number."""
-    if many == 0:
-        return []
     values = [number & ((1 << many * width) - 1)]
     shares = [width]
     while 1 << (len(shares) - 1) < many:

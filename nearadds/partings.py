@@ -50,7 +50,7 @@ def put_in(basis, part, times, prime):
 def quotient(parts, others, prime):
     """The list of tuples (part, times), times not 0, as whose product one product is another one's multiple."""
     basis = []
-    for poly, times in parts + [(poly, -times) for poly, times in others]:
+    for poly, times in parts + [(divisor, -often) for divisor, often in others]:
         for part, share in layers(monic(poly, prime), prime):
             basis = put_in(basis, part, share * times, prime)
     return [(part, times) for part, times in basis if times]

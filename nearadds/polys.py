@@ -37,7 +37,7 @@ def monic(poly, prime):
 
 
 def multiplied(one, other, prime):
-    """The product of two polynomials, none of them nought."""
+    """The product of two polynomials."""
     if min(len(one), len(other)) > SHORT:
         return multiplied_packed(list(one), list(other), prime)
     sums = [0] * (len(one) + len(other) - 1)
@@ -55,7 +55,7 @@ def multiplied_packed(one, other, prime):
 
 
 def product_of(parts, prime):
-    """The product of polynomials, told in tuples (poly, times), none of them nought."""
+    """The product of polynomials, told in tuples (poly, times)."""
     product = [1]
     for poly, times in parts:
         for _ in range(times):

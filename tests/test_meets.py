@@ -123,13 +123,9 @@ class MultipliedOut(Case):
                         self.judged_by_primes(one, other)
 
     def judged_by_primes(self, one, other):
-        told = meets(one, other)
-        expected = None
-        for a, b in sorted(product(range(1, 61), repeat=2)):
-            if self.one_term(one, a) == self.one_term(other, b):
-                expected = (a, b)
-                break
-        self.same(told, expected)
+        first, second = [[self.one_term(rule, times) for times in range(1, 61)] for rule in (one, other)]
+        found = [(a + 1, b + 1) for a, b in product(range(60), repeat=2) if first[a] == second[b]]
+        self.same(meets(one, other), found[0] if found else None)
 
     def one_term(self, rule, times):
         (offset, factor), = rule[1]

@@ -279,6 +279,19 @@ class Parting(Case):
             ends = [(m, ((-4, 1), (d, m - 1), (4, 1))) for d in (-3, -2)]
             self.judged((m, ((ends[0][1], MOST), (ends[1][1], MOST - 1))), *ends)
 
+    def test_rules_that_part_at_their_last_terms_only(self):
+        chance = Random(26)
+        for m in MODULI:
+            # All factors are units, so that no prime loses a term.
+            fronts = [c for c in range(1, m) if all(c % prime for prime in MODULI[m])]
+            for reach in (4, 4, 4, 40):
+                one = tuple((d, chance.choice(fronts)) for d in range(-reach, reach + 1))
+                for k in (1, 2, 3):
+                    rules = [(m, one), (m, one[k:])]
+                    self.judged((m, ()), *rules)
+                    if m in PRIMES and reach == 4:
+                        self.judged(far_program(chance, m, 1), *rules, often=m ** 7)
+
     def test_rules_that_nearly_are_powers(self):
         for prime in PRIMES:
             shared = (prime, ((((0, 1), (1, 1)), MOST),))

@@ -3,86 +3,14 @@
 import inspect
 from itertools import combinations, product
 
-from nearadds import errors, factors, rules
+from nearadds import errors, factors, farcells, programs, rounds, rules
+from tests.asked import INTERFACE, KINDS, LIST, OF_MODULUS, PARTS, PROGRAM, ROUND, ROW, RULE, TAKEN
 from tests.cases import Case
-from tests.worked import FAR, MODULI, PRIMES, odd_objects, spoiled
-from tests.worked import told_factor, told_factored, told_parts, told_round, told_rule
+from tests.worked import FAR, MODULI, PRIMES, odd_objects, one_cell, spoiled
+from tests.worked import told_factor, told_factored, told_parts, told_program, told_round, told_rule
 
-INTERFACE = {
-    rules: {
-        "is_rule": "value", "is_row": "value", "is_round": "value", "is_program": "value", "primes_of": "modulus",
-        "still": "modulus", "plus": "one other", "behind": "one other", "power": "rule times",
-        "by_prime": "rule prime", "put_together": "modulus parts", "step": "rule row", "round_step": "rule row",
-        "added": "one other",
-    },
-    factors: {
-        "factored": "rule", "of_factors": "modulus value", "is_factor": "prime value", "order": "prime factor",
-        "common": "one other",
-    },
-}
-
-RULE, ROW, ROUND = (6, ((-1, 2), (1, 3))), (6, ((0, 1), (5, 4))), (6, (0, 5, 3))
-PARTS, LIST = [((0, 1),), ((0, 2), (1, 1))], [(2, 0, 1, (((1, 1), 2),)), (3,)]
-
-# For each kind of argument: a good one, its error, ones that are refused.
-KINDS = {
-    "rule": (RULE, errors.InvalidRule, [
-        None, [6, ()], (6, [(0, 1)]), (6, [[0, 1]]), (6, ((0, [1]),)), (4, ()), (6, ((0, 6),)), (6, ((0, True),)),
-        (6, ((1, 1), (0, 1))), (6, ((0, 1), (0, 2))), (6, (), ()), [[1], [[2]], ([3],)], ()]),
-    "row": (ROW, errors.InvalidRow, [
-        None, [6, ()], (6, [(0, 1)]), (6, ((0, 6),)), (6, ((0, 0),)), (9, ()), (6, ((True, 1),)), ((6, ()),),
-        (6, ((5, 1), (0, 1))), (6, (0, 5)), [[], []], {"a": 1}]),
-    "round": (ROUND, errors.InvalidRound, [
-        None, (6, ()), [6, [0]], (6, [0, 1]), (6, (6,)), (6, (-1,)), (6, (True,)), (12, (0,)), (6, ((0, 1),)),
-        (6, (0, [1], ([2], [3])))]),
-    "modulus": (6, errors.InvalidModulus, [0, 1, -1, -6, 4, 8, 9, 12, 16, 17, 21, 30, FAR, -FAR]),
-    "times": (3, errors.InvalidNumber, [-1, 41, -40, 80, FAR, -FAR]),
-    "prime_of": (3, errors.InvalidNumber, [0, 1, -2, -3, 4, 5, 6, 7, 11, 13, FAR]),
-    "parts": (PARTS, errors.InvalidRule, [
-        None, [], [()], [(), (), ()], ((), ()), [(), []], [((0, 2),), ()], [(), ((0, 3),)], [(), ((0, 0),)],
-        [((0, True),), ()], [((1, 1), (0, 1)), ()], [((0, 1), (0, 1)), ()], [(), [[0, 1]]], [([0], [1]), ((0, 1),)],
-        (6, ((0, 1),)), {0: [1]}]),
-    "list": (LIST, errors.InvalidFactor, [
-        None, [], [(2,)], [(2,), (3,), (5,)], ((2,), (3,)), [(3,), (2,)], [[2], [3]], [(2,), (2,)], [(True,), (3,)],
-        [(2, 0), (3,)], [(2, 0, 1), (3,)], [(2, 0, 1, (), ()), (3,)], [(2, 0, 1, []), (3,)], [(2, 0, 0, ()), (3,)],
-        [(2, 0, 2, ()), (3,)], [(2, 0, True, ()), (3,)], [(2, False, 1, ()), (3,)], [(2, None, 1, ()), (3,)],
-        [(2,), (3, 0, 3, ())], [(2,), (3, 0, 1, (((1, 0, 2), 1),))], [(2,), (3, 0, 1, (((1, 1), 0),))],
-        [(2,), (3, 0, 1, (((1, 1), -1),))], [(2,), (3, 0, 1, (((1, 1), True),))], [(2,), (3, 0, 1, (((1, 1),),))],
-        [(2,), (3, 0, 1, (((1, 1), 1, 1),))], [(2,), (3, 0, 1, (([1, 1], 1),))], [(2,), (3, 0, 1, ([(1, 1), 1],))],
-        [(2,), (3, 0, 1, (((1, 1), 1), ((1, 1), 1)))], [(2,), (3, 0, 1, (((1, 1), 1), ((1, 1), 2)))],
-        [(2,), (3, 0, 1, (((1, 1), 2), ((1, 1), 1)))], [(2,), (3, 0, 1, (((2, 1), 1), ((1, 1), 1)))],
-        [(2,), (3, 0, 1, (((1, 1), 1), ((1, 0, 1), 1)))], [(2,), (3, 0, 1, (((1, 2, 1), 1),))],
-        [(2,), (3, 0, 1, (((0, 1), 1),))], [(2,), (3, 0, 1, (((1,), 1),))], [(2,), (3, 0, 1, ((1, 1), 1))],
-        [(2, 0, 1, (((1, 0, 1), 1),)), (3,)], [(2,), (3, 0, 1, (((1, 2), 1),))], [(2,), (3, 0, 1, (((1, 3), 1),))]]),
-    "prime": (3, errors.InvalidNumber, [0, 1, -1, -2, -3, 4, 6, 8, 9, 10, 14, 15, 17, 19, 23, FAR, -FAR]),
-    "factor": ((1, 0, 1), errors.InvalidFactor, [
-        None, (), (1,), (0, 1), (1, 2), (1, 2, 1), (1, 3), (3, 1), (-1, 1), [1, 1], (True, 1), (1, True), ((1, 1),),
-        (1, 0, 1, 0), (1, [0], 1), [[1], [1]], 1, "11", {0: 1}]),
-    "object": (None, None, []),
-}
-
-# For each function that refuses something: the kinds of its arguments, and whether two have to be of one modulus.
-TAKEN = {
-    rules.primes_of: (["modulus"], False),
-    rules.still: (["modulus"], False),
-    rules.plus: (["rule", "rule"], True),
-    rules.behind: (["rule", "rule"], True),
-    rules.power: (["rule", "times"], False),
-    rules.by_prime: (["rule", "prime_of"], False),
-    rules.put_together: (["modulus", "parts"], False),
-    rules.step: (["rule", "row"], True),
-    rules.round_step: (["rule", "round"], True),
-    rules.added: (["row", "row"], True),
-    factors.factored: (["rule"], False),
-    factors.of_factors: (["modulus", "list"], False),
-    factors.is_factor: (["prime", "object"], False),
-    factors.order: (["prime", "factor"], False),
-    factors.common: (["rule", "rule"], True),
-}
-
-# One value of each kind of which a modulus is a part.
-OF_MODULUS = {
-    "rule": lambda m: (m, ((-1, 1), (2, m - 1))), "row": lambda m: (m, ((FAR, m - 1),)), "round": lambda m: (m, (0, 1))}
+OF_ANY_OBJECT = ("rule", "live_rule", "prime_rule", "program", "row", "round", "prime_round", "parts", "list",
+                 "factor", "values", "looks", "cells")
 
 
 def names_of(call):
@@ -141,34 +69,68 @@ class Refused(Case):
     def test_odd_objects(self):
         for call, (kinds, _) in TAKEN.items():
             for k, kind in enumerate(kinds):
-                if kind in ("rule", "row", "round", "parts", "list", "factor"):
+                if kind in OF_ANY_OBJECT:
                     for odd in odd_objects():
-                        passed = self.good(call)
-                        passed[k] = odd
-                        self.refused(KINDS[kind][1], odd, call, *passed)
+                        # No looks at all are looks.
+                        if kind != "looks" or type(odd) is not tuple or len(odd):
+                            passed = self.good(call)
+                            passed[k] = odd
+                            self.refused(KINDS[kind][1], odd, call, *passed)
+
+    def of_moduli(self, call, moduli):
+        """Arguments of which those that have to be of one modulus are of these moduli."""
+        kinds, alike = TAKEN[call]
+        passed = self.good(call)
+        for k, m in zip(alike, moduli):
+            passed[k] = OF_MODULUS[kinds[k]](m)
+        return passed
 
     def test_unlike_moduli(self):
-        for call, (kinds, two) in TAKEN.items():
-            if two:
-                for one, other in product(MODULI, repeat=2):
-                    passed = [OF_MODULUS[kind](m) for kind, m in zip(kinds, (one, other))]
+        for call, (kinds, alike) in TAKEN.items():
+            known = PRIMES if "prime_rule" in kinds else MODULI
+            for one, other in product(known, repeat=2):
+                for k in range(1, len(alike)):
+                    moduli = [one] * len(alike)
+                    moduli[k] = other
+                    passed = self.of_moduli(call, moduli)
                     if one != other:
                         self.refused_both(errors.Unlike, other, call, names_of(call), passed)
                     else:
                         self.answers(call(*passed), call, names_of(call), passed)
+            if len(alike) == 3:
+                passed = self.of_moduli(call, [2, 3, 5])
+                self.refused_both(errors.Unlike, 3, call, names_of(call), passed)
+
+    def test_unlike_moduli_are_told_ahead_of_what_is_wrong_with_later_ones(self):
+        for call, (kinds, alike) in TAKEN.items():
+            for k in range(alike[-1] + 1 if alike else len(kinds), len(kinds)):
+                for bad in KINDS[kinds[k]][2]:
+                    passed = self.of_moduli(call, [3, 2])
+                    passed[k] = bad
+                    self.refused_both(errors.Unlike, 2, call, names_of(call), passed)
+            if len(alike) == 3:
+                for bad in KINDS[kinds[2]][2]:
+                    passed = self.of_moduli(call, [3, 2, 3])
+                    passed[2] = bad
+                    self.refused_both(errors.Unlike, 2, call, names_of(call), passed)
 
     def test_a_faulty_value_is_told_ahead_of_unlike_moduli(self):
-        for call, (kinds, two) in TAKEN.items():
-            if two:
-                for bad in ((7, ((0, 7),)), (7, (-1,)), (7, [0]), (5, (7,)), (14, None)):
-                    self.refused(KINDS[kinds[1]][1], bad, call, KINDS[kinds[0]][0], bad)
-                    self.refused(KINDS[kinds[0]][1], bad, call, bad, KINDS[kinds[1]][0])
+        for call, (kinds, alike) in TAKEN.items():
+            for k in alike:
+                for bad in ((11, ((0, 11),)), (11, (-1,)), (11, [0]), (5, (7,)), (14, None)):
+                    passed = self.good(call)
+                    passed[k] = bad
+                    self.refused_both(KINDS[kinds[k]][1], bad, call, names_of(call), passed)
 
     def test_empty_values_have_a_modulus_too(self):
-        for call, (kinds, two) in TAKEN.items():
-            if two and "round" not in kinds:
-                self.refused(errors.Unlike, 3, call, (2, ()), (3, ()))
-                self.refused(errors.Unlike, 2, call, (6, ()), (2, ()))
+        for call, (kinds, alike) in TAKEN.items():
+            if alike and all(kinds[k] in ("rule", "row", "program") for k in alike):
+                for one, other in ((2, 3), (6, 2)):
+                    passed = self.good(call)
+                    for k in alike:
+                        passed[k] = (one, ())
+                    passed[alike[-1]] = (other, ())
+                    self.refused(errors.Unlike, other, call, *passed)
 
     def test_a_rule_is_not_taken_for_a_round_row_nor_a_list_for_a_rule(self):
         self.refused(errors.InvalidRound, RULE, rules.round_step, RULE, RULE)
@@ -176,6 +138,10 @@ class Refused(Case):
         self.refused(errors.InvalidRule, ROUND, rules.step, ROUND, ROW)
         self.refused(errors.InvalidRule, LIST, rules.put_together, 6, LIST)
         self.refused(errors.InvalidFactor, PARTS, factors.of_factors, 6, PARTS)
+        self.refused(errors.InvalidProgram, RULE, programs.span, RULE)
+        self.refused(errors.InvalidRow, ROUND, farcells.first_cell, PROGRAM, ROUND)
+        self.refused(errors.InvalidRound, ROW, rounds.round_after, PROGRAM, ROW)
+        self.refused(errors.InvalidProgram, RULE, rounds.round_after, RULE, ROUND)
 
 
 class SpoiledInOneThing(Case):
@@ -216,6 +182,24 @@ class SpoiledInOneThing(Case):
                     self.same(rules.round_step(rules.still(m), odd), odd)
                 else:
                     self.refused(errors.InvalidRound, odd, rules.round_step, rules.still(m), odd)
+
+    def test_programs(self):
+        for m in MODULI:
+            program, row = (m, ((((0, 1),), 1),)), (m, (1, 0))
+            for odd in spoiled((m, ((((-1, 1), (0, m - 1)), 3), ((), 0)))):
+                if told_program(odd) and odd[0] != m:
+                    self.refused(errors.Unlike, odd[0], programs.alike, program, odd)
+                    self.refused(errors.Unlike, m, rounds.round_after, odd, row)
+                elif told_program(odd):
+                    self.same(programs.joined(program, odd), (m, program[1] + odd[1]))
+                else:
+                    for call in (programs.span, programs.total, programs.as_rule, programs.undone):
+                        self.refused(errors.InvalidProgram, odd, call, odd)
+                    for call in (programs.alike, programs.parting, programs.joined):
+                        self.refused(errors.InvalidProgram, odd, call, program, odd)
+                    self.refused(errors.InvalidProgram, odd, programs.power_of, odd, -1)
+                    self.refused(errors.InvalidProgram, odd, rounds.round_after, odd, row)
+                    self.refused(errors.InvalidProgram, odd, farcells.parting_cell, program, odd, one_cell(m))
 
     def test_parts(self):
         for m, primes in MODULI.items():

@@ -1,0 +1,192 @@
+"""What the interface lists, and of each argument good values and such as are refused."""
+
+from nearadds import backward, errors, factors, farcells, kernels, meets, programs, rounds, rules, toldback
+from tests.worked import FAR
+
+INTERFACE = {
+    rules: {
+        "is_rule": "value", "is_row": "value", "is_round": "value", "is_program": "value", "primes_of": "modulus",
+        "still": "modulus", "plus": "one other", "behind": "one other", "power": "rule times",
+        "by_prime": "rule prime", "put_together": "modulus parts", "step": "rule row", "round_step": "rule row",
+        "added": "one other",
+    },
+    factors: {
+        "factored": "rule", "of_factors": "modulus value", "is_factor": "prime value", "order": "prime factor",
+        "common": "one other",
+    },
+    programs: {
+        "alike": "one other", "parting": "one other", "span": "program", "total": "program", "joined": "one other",
+        "as_rule": "program", "power_of": "program times", "undone": "program",
+    },
+    meets: {
+        "meets": "one other", "meets_at": "one other a b", "meets_often": "one other", "root": "rule times",
+        "greatest_root": "rule", "comes_round": "rule",
+    },
+    farcells: {
+        "cell": "program row place", "cells": "program row place count", "first_cell": "program row",
+        "last_cell": "program row", "row_total": "program row", "parting_cell": "one other row",
+    },
+    backward: {
+        "ahead": "rule row", "bar": "rule row", "bars": "rule row value", "steps_back": "rule row",
+        "row_back": "rule row times",
+    },
+    kernels: {
+        "free_cells": "rule times", "dying_cell": "rule times values place", "dying_round": "rule times values",
+        "dies_in": "rule row", "both_die": "one other",
+    },
+    toldback: {
+        "fitting": "modulus reach looks", "how_many": "modulus reach looks", "further_rules": "modulus reach looks",
+        "further_hold": "modulus reach looks value", "refusal": "modulus reach looks",
+        "refuses": "modulus reach looks value", "sure_value": "modulus reach looks cells",
+        "more_looks": "modulus reach looks", "next_cells": "modulus reach looks",
+        "wrong_looks": "modulus reach looks", "which_wrong": "modulus reach looks",
+    },
+    rounds: {
+        "round_after": "program row", "rounds_ahead": "rule row", "round_bar": "rule row",
+        "round_bars": "rule row value", "least_ahead": "rule row", "comes_again": "rule row",
+    },
+}
+
+RULE, ROW, ROUND = (6, ((-1, 2), (1, 3))), (6, ((0, 1), (5, 4))), (6, (0, 5, 3))
+PROGRAM = (6, ((((-1, 2), (1, 3)), 3), ((), 0), (((0, 5),), 10 ** 29)))
+OF_PRIME = (3, ((-1, 1), (0, 1), (1, 1)))
+LOOKS = (((1, 0, 5), 2), ((0, 3, 0), 0))
+PARTS, LIST = [((0, 1),), ((0, 2), (1, 1))], [(2, 0, 1, (((1, 1), 2),)), (3,)]
+
+NO_RULES = [
+    None, [6, ()], (6, [(0, 1)]), (6, [[0, 1]]), (6, ((0, [1]),)), (4, ()), (6, ((0, 6),)), (6, ((0, True),)),
+    (6, ((1, 1), (0, 1))), (6, ((0, 1), (0, 2))), (6, (), ()), [[1], [[2]], ([3],)], ()]
+
+NO_ROUNDS = [
+    None, (6, ()), [6, [0]], (6, [0, 1]), (6, (6,)), (6, (-1,)), (6, (True,)), (12, (0,)), (6, ((0, 1),)),
+    (6, (0, [1], ([2], [3])))]
+
+# For each kind of argument: a good one, its error, ones that are refused.
+KINDS = {
+    "rule": (RULE, errors.InvalidRule, NO_RULES),
+    "live_rule": (RULE, errors.InvalidRule, NO_RULES + [(6, ()), (6, ((0, 2),)), (6, ((0, 3), (1, 3))), (2, ())]),
+    "prime_rule": (OF_PRIME, errors.InvalidRule, NO_RULES + [(3, ()), (6, ((0, 1),)), (6, ()), (15, ((0, 1), (1, 1)))]),
+    "program": (PROGRAM, errors.InvalidProgram, [
+        None, [6, ()], (6, []), (6, ((),)), (6, (((), -1),)), (6, (((), 10 ** 30 + 1),)), (6, (((), True),)),
+        (6, (), 1), (6, ([(), 1],)), (6, (([], 1),)), (6, ((((0, 6),), 1),)), (6, ((((1, 1), (0, 1)), 1),)), (4, ()),
+        (6, ((0, 1),)), (6, (((), 1, 1),)), [[6], [[]], ([3],)], (6, (((), 1), [[], [1]])), RULE]),
+    "row": (ROW, errors.InvalidRow, [
+        None, [6, ()], (6, [(0, 1)]), (6, ((0, 6),)), (6, ((0, 0),)), (9, ()), (6, ((True, 1),)), ((6, ()),),
+        (6, ((5, 1), (0, 1))), (6, (0, 5)), [[], []], {"a": 1}]),
+    "round": (ROUND, errors.InvalidRound, NO_ROUNDS),
+    "prime_round": ((3, (0, 2, 1)), errors.InvalidRound, NO_ROUNDS),
+    "modulus": (6, errors.InvalidModulus, [0, 1, -1, -6, 4, 8, 9, 12, 16, 17, 21, 30, FAR, -FAR]),
+    "times": (3, errors.InvalidNumber, [-1, 41, -40, 80, FAR, -FAR]),
+    "prime_of": (3, errors.InvalidNumber, [0, 1, -2, -3, 4, 5, 6, 7, 11, 13, FAR]),
+    "parts": (PARTS, errors.InvalidRule, [
+        None, [], [()], [(), (), ()], ((), ()), [(), []], [((0, 2),), ()], [(), ((0, 3),)], [(), ((0, 0),)],
+        [((0, True),), ()], [((1, 1), (0, 1)), ()], [((0, 1), (0, 1)), ()], [(), [[0, 1]]], [([0], [1]), ((0, 1),)],
+        (6, ((0, 1),)), {0: [1]}]),
+    "list": (LIST, errors.InvalidFactor, [
+        None, [], [(2,)], [(2,), (3,), (5,)], ((2,), (3,)), [(3,), (2,)], [[2], [3]], [(2,), (2,)], [(True,), (3,)],
+        [(2, 0), (3,)], [(2, 0, 1), (3,)], [(2, 0, 1, (), ()), (3,)], [(2, 0, 1, []), (3,)], [(2, 0, 0, ()), (3,)],
+        [(2, 0, 2, ()), (3,)], [(2, 0, True, ()), (3,)], [(2, False, 1, ()), (3,)], [(2, None, 1, ()), (3,)],
+        [(2,), (3, 0, 3, ())], [(2,), (3, 0, 1, (((1, 0, 2), 1),))], [(2,), (3, 0, 1, (((1, 1), 0),))],
+        [(2,), (3, 0, 1, (((1, 1), -1),))], [(2,), (3, 0, 1, (((1, 1), True),))], [(2,), (3, 0, 1, (((1, 1),),))],
+        [(2,), (3, 0, 1, (((1, 1), 1, 1),))], [(2,), (3, 0, 1, (([1, 1], 1),))], [(2,), (3, 0, 1, ([(1, 1), 1],))],
+        [(2,), (3, 0, 1, (((1, 1), 1), ((1, 1), 1)))], [(2,), (3, 0, 1, (((1, 1), 1), ((1, 1), 2)))],
+        [(2,), (3, 0, 1, (((1, 1), 2), ((1, 1), 1)))], [(2,), (3, 0, 1, (((2, 1), 1), ((1, 1), 1)))],
+        [(2,), (3, 0, 1, (((1, 1), 1), ((1, 0, 1), 1)))], [(2,), (3, 0, 1, (((1, 2, 1), 1),))],
+        [(2,), (3, 0, 1, (((0, 1), 1),))], [(2,), (3, 0, 1, (((1,), 1),))], [(2,), (3, 0, 1, ((1, 1), 1))],
+        [(2, 0, 1, (((1, 0, 1), 1),)), (3,)], [(2,), (3, 0, 1, (((1, 2), 1),))], [(2,), (3, 0, 1, (((1, 3), 1),))]]),
+    "prime": (3, errors.InvalidNumber, [0, 1, -1, -2, -3, 4, 6, 8, 9, 10, 14, 15, 17, 19, 23, FAR, -FAR]),
+    "factor": ((1, 0, 1), errors.InvalidFactor, [
+        None, (), (1,), (0, 1), (1, 2), (1, 2, 1), (1, 3), (3, 1), (-1, 1), [1, 1], (True, 1), (1, True), ((1, 1),),
+        (1, 0, 1, 0), (1, [0], 1), [[1], [1]], 1, "11", {0: 1}]),
+    "times_of": (10, errors.InvalidNumber, [-1, 11, 10 ** 30, FAR, -FAR]),
+    "most_times": (10 ** 30, errors.InvalidNumber, [-1, 10 ** 30 + 1, FAR, -FAR]),
+    "root_times": (1, errors.InvalidNumber, [0, -1, 41, 10 ** 30, FAR, -FAR]),
+    "count": (20, errors.InvalidNumber, [0, 21, -1, -20, FAR, -FAR]),
+    "times_back": (2, errors.InvalidNumber, [-1, 101, FAR, -FAR]),
+    "times_dying": (2, errors.InvalidNumber, [0, -1, 21, 40, FAR, -FAR]),
+    "values": ((0, 1, 2, 0), errors.InvalidCells, [
+        None, [0, 1, 2, 0], (0, 1, 2), (0, 1, 2, 0, 0), (0, 1, 2, 3), (0, 1, 2, -1), (0, True, 2, 0), (0, [1], 2, 0),
+        (), ((0, 1, 2, 0),), {0: 1}, "0120", [[0], [0]]]),
+    "reach": (1, errors.InvalidNumber, [-1, 4, FAR, -FAR]),
+    "looks": (LOOKS, errors.InvalidLooks, [
+        None, [], list(LOOKS), LOOKS[0], (LOOKS,), LOOKS + (None,), ([(1, 0, 5), 2],), (([1, 0, 5], 2),),
+        (((1, 0), 2),), (((1, 0, 5, 0), 2),), (((1, 0, 6), 2),), (((1, 0, -1), 2),), (((1, 0, 5), 6),),
+        (((1, True, 5), 2),), (((1, 0, 5), False),), (((1, 0, 5),),), (((1, 0, 5), 2, 2),), {0: LOOKS}, [[[1]], ([2],)]]),
+    "cells": ((2, 0, 5), errors.InvalidCells, [
+        None, [2, 0, 5], (2, 0), (2, 0, 5, 0), (2, 0, 6), (-1, 0, 5), (2, False, 5), (2, (0,), [5]), (), "205"]),
+    "place": (5, None, []),
+    "object": (None, None, []),
+}
+
+# For each function that refuses something: the kinds of its arguments, and which of them have to be of one modulus.
+TAKEN = {
+    rules.primes_of: (["modulus"], ()),
+    rules.still: (["modulus"], ()),
+    rules.plus: (["rule", "rule"], (0, 1)),
+    rules.behind: (["rule", "rule"], (0, 1)),
+    rules.power: (["rule", "times"], ()),
+    rules.by_prime: (["rule", "prime_of"], ()),
+    rules.put_together: (["modulus", "parts"], ()),
+    rules.step: (["rule", "row"], (0, 1)),
+    rules.round_step: (["rule", "round"], (0, 1)),
+    rules.added: (["row", "row"], (0, 1)),
+    factors.factored: (["rule"], ()),
+    factors.of_factors: (["modulus", "list"], ()),
+    factors.is_factor: (["prime", "object"], ()),
+    factors.order: (["prime", "factor"], ()),
+    factors.common: (["rule", "rule"], (0, 1)),
+    programs.alike: (["program", "program"], (0, 1)),
+    programs.parting: (["program", "program"], (0, 1)),
+    programs.span: (["program"], ()),
+    programs.total: (["program"], ()),
+    programs.joined: (["program", "program"], (0, 1)),
+    programs.as_rule: (["program"], ()),
+    programs.power_of: (["program", "times_of"], ()),
+    programs.undone: (["program"], ()),
+    meets.meets: (["rule", "rule"], (0, 1)),
+    meets.meets_at: (["rule", "rule", "most_times", "most_times"], (0, 1)),
+    meets.meets_often: (["rule", "rule"], (0, 1)),
+    meets.root: (["rule", "root_times"], ()),
+    meets.greatest_root: (["rule"], ()),
+    meets.comes_round: (["rule"], ()),
+    farcells.cell: (["program", "row", "place"], (0, 1)),
+    farcells.cells: (["program", "row", "place", "count"], (0, 1)),
+    farcells.first_cell: (["program", "row"], (0, 1)),
+    farcells.last_cell: (["program", "row"], (0, 1)),
+    farcells.row_total: (["program", "row"], (0, 1)),
+    farcells.parting_cell: (["program", "program", "row"], (0, 1, 2)),
+    backward.ahead: (["live_rule", "row"], (0, 1)),
+    backward.bar: (["live_rule", "row"], (0, 1)),
+    backward.bars: (["live_rule", "row", "object"], (0, 1)),
+    backward.steps_back: (["live_rule", "row"], (0, 1)),
+    backward.row_back: (["live_rule", "row", "times_back"], (0, 1)),
+    kernels.free_cells: (["prime_rule", "most_times"], ()),
+    kernels.dying_cell: (["prime_rule", "times_dying", "values", "place"], ()),
+    kernels.dying_round: (["prime_rule", "times_dying", "values"], ()),
+    kernels.dies_in: (["prime_rule", "prime_round"], (0, 1)),
+    kernels.both_die: (["prime_rule", "prime_rule"], (0, 1)),
+    toldback.fitting: (["modulus", "reach", "looks"], ()),
+    toldback.how_many: (["modulus", "reach", "looks"], ()),
+    toldback.further_rules: (["modulus", "reach", "looks"], ()),
+    toldback.further_hold: (["modulus", "reach", "looks", "object"], ()),
+    toldback.refusal: (["modulus", "reach", "looks"], ()),
+    toldback.refuses: (["modulus", "reach", "looks", "object"], ()),
+    toldback.sure_value: (["modulus", "reach", "looks", "cells"], ()),
+    toldback.more_looks: (["modulus", "reach", "looks"], ()),
+    toldback.next_cells: (["modulus", "reach", "looks"], ()),
+    toldback.wrong_looks: (["modulus", "reach", "looks"], ()),
+    toldback.which_wrong: (["modulus", "reach", "looks"], ()),
+    rounds.round_after: (["program", "round"], (0, 1)),
+    rounds.rounds_ahead: (["rule", "round"], (0, 1)),
+    rounds.round_bar: (["rule", "round"], (0, 1)),
+    rounds.round_bars: (["rule", "round", "object"], (0, 1)),
+    rounds.least_ahead: (["rule", "round"], (0, 1)),
+    rounds.comes_again: (["rule", "round"], (0, 1)),
+}
+
+# One value of each kind of which a modulus is a part.
+OF_MODULUS = {
+    "rule": lambda m: (m, ((-1, 1), (2, m - 1))), "live_rule": lambda m: (m, ((-1, 1), (2, m - 1))),
+    "prime_rule": lambda m: (m, ((-1, 1), (2, m - 1))), "row": lambda m: (m, ((FAR, m - 1),)),
+    "round": lambda m: (m, (0, 1)), "prime_round": lambda m: (m, (0, 1)),
+    "program": lambda m: (m, ((((-1, 1), (2, m - 1)), 10 ** 30),))}
