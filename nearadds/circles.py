@@ -12,6 +12,14 @@ def whole_of(many, prime):
     return [prime - 1] + [0] * (many - 1) + [1]
 
 
+def share_of(number, prime):
+    """The greatest power of a prime that divides a number from 1 on."""
+    share = 1
+    while number % (share * prime) == 0:
+        share = share * prime
+    return share
+
+
 def folded(poly, many, prime):
     """What x to the power many less 1 leaves of a polynomial."""
     sums = [0] * many

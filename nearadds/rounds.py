@@ -2,7 +2,7 @@
 
 from math import lcm
 
-from nearadds.circles import common_with, done_often, one_ahead, stepped, weights_against
+from nearadds.circles import common_with, done_often, one_ahead, share_of, stepped, weights_against
 from nearadds.factors import divisors_of
 from nearadds.forms import is_remainders
 from nearadds.rules import by_prime, has_prime, need_program, need_round, need_rule, need_same, one_for, primes_of
@@ -154,9 +154,7 @@ def turns_on_ring(many, prime):
     modulo each prime factor of x ** rest - 1 what is not 0 is 1 if multiplied by itself power - 1 times, and x to the
     number, less 1, has each of these so many times as the share.
     """
-    share = 1
-    while many % (share * prime) == 0:
-        share = share * prime
+    share = share_of(many, prime)
     rest = many // share
     power = prime
     while power % rest != 1 % rest:

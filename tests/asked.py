@@ -1,6 +1,7 @@
 """What the interface lists, and of each argument good values and such as are refused."""
 
-from nearadds import backward, errors, factors, farcells, kernels, meets, programs, rounds, rules, toldback
+from nearadds import backward, errors, factors, farcells, keptsums, kernels, meets, programs, rings, rounds, rules
+from nearadds import toldback, walls
 from tests.worked import FAR
 
 INTERFACE = {
@@ -45,6 +46,19 @@ INTERFACE = {
         "round_after": "program row", "rounds_ahead": "rule row", "round_bar": "rule row",
         "round_bars": "rule row value", "least_ahead": "rule row", "comes_again": "rule row",
     },
+    rings: {
+        "losing": "rule", "loses": "rule n", "nought_dims": "rule n", "coming_dims": "rule n", "longest_tail": "rule n",
+        "first_unlike_ring": "one other", "ring_round": "rule n", "rounds_of": "rule n",
+    },
+    walls: {
+        "unfolded": "row kind", "walled_step": "rule row kind", "walled_after": "program row kind",
+        "walled_losing": "rule kind", "walled_noughts": "rule kind n", "walled_tail": "rule kind n",
+    },
+    keptsums: {
+        "free_weights": "rule factor", "weight": "rule factor values place", "weighted": "rule factor values row",
+        "weights_round": "rule factor values", "ring_weights": "rule factor n", "weight_rings": "rule factor",
+        "all_round_weights": "rule factor n",
+    },
 }
 
 RULE, ROW, ROUND = (6, ((-1, 2), (1, 3))), (6, ((0, 1), (5, 4))), (6, (0, 5, 3))
@@ -61,15 +75,21 @@ NO_ROUNDS = [
     None, (6, ()), [6, [0]], (6, [0, 1]), (6, (6,)), (6, (-1,)), (6, (True,)), (12, (0,)), (6, ((0, 1),)),
     (6, (0, [1], ([2], [3])))]
 
+NO_PROGRAMS = [
+    None, [6, ()], (6, []), (6, ((),)), (6, (((), -1),)), (6, (((), 10 ** 30 + 1),)), (6, (((), True),)),
+    (6, (), 1), (6, ([(), 1],)), (6, (([], 1),)), (6, ((((0, 6),), 1),)), (6, ((((1, 1), (0, 1)), 1),)), (4, ()),
+    (6, ((0, 1),)), (6, (((), 1, 1),)), [[6], [[]], ([3],)], (6, (((), 1), [[], [1]])), RULE]
+
 # For each kind of argument: a good one, its error, ones that are refused.
 KINDS = {
     "rule": (RULE, errors.InvalidRule, NO_RULES),
     "live_rule": (RULE, errors.InvalidRule, NO_RULES + [(6, ()), (6, ((0, 2),)), (6, ((0, 3), (1, 3))), (2, ())]),
     "prime_rule": (OF_PRIME, errors.InvalidRule, NO_RULES + [(3, ()), (6, ((0, 1),)), (6, ()), (15, ((0, 1), (1, 1)))]),
-    "program": (PROGRAM, errors.InvalidProgram, [
-        None, [6, ()], (6, []), (6, ((),)), (6, (((), -1),)), (6, (((), 10 ** 30 + 1),)), (6, (((), True),)),
-        (6, (), 1), (6, ([(), 1],)), (6, (([], 1),)), (6, ((((0, 6),), 1),)), (6, ((((1, 1), (0, 1)), 1),)), (4, ()),
-        (6, ((0, 1),)), (6, (((), 1, 1),)), [[6], [[]], ([3],)], (6, (((), 1), [[], [1]])), RULE]),
+    "program": (PROGRAM, errors.InvalidProgram, NO_PROGRAMS),
+    "even_rule": ((6, ((-1, 2), (0, 1), (1, 2))), errors.InvalidRule, NO_RULES + [
+        RULE, (6, ((1, 1),)), (6, ((0, 1), (1, 1))), (6, ((-1, 1), (1, 5))), (6, ((-2, 1), (0, 3), (1, 1)))]),
+    "even_program": ((6, ((((-1, 2), (1, 2)), 3), (((0, 5),), 10 ** 30))), errors.InvalidProgram, NO_PROGRAMS + [
+        PROGRAM, (6, ((((1, 1),), 0),)), (6, ((((0, 1),), 1), (((-1, 2), (1, 3)), 10 ** 30)))]),
     "row": (ROW, errors.InvalidRow, [
         None, [6, ()], (6, [(0, 1)]), (6, ((0, 6),)), (6, ((0, 0),)), (9, ()), (6, ((True, 1),)), ((6, ()),),
         (6, ((5, 1), (0, 1))), (6, (0, 5)), [[], []], {"a": 1}]),
@@ -115,6 +135,16 @@ KINDS = {
     "cells": ((2, 0, 5), errors.InvalidCells, [
         None, [2, 0, 5], (2, 0), (2, 0, 5, 0), (2, 0, 6), (-1, 0, 5), (2, False, 5), (2, (0,), [5]), (), "205"]),
     "place": (5, None, []),
+    "many": (6, errors.InvalidNumber, [0, -1, -6, -FAR]),
+    "kind": ("mirror", errors.InvalidWalls, [
+        None, "", "Mirror", "noughts", b"nought", 0, True, ["nought"], ("nought",), {"nought": []}, [[], ([0],)]]),
+    "factor_of": (1, errors.InvalidNumber, [-1, 6, -6, 7, FAR, -FAR]),
+    "factor_of_prime": (1, errors.InvalidNumber, [-1, 3, -3, 4, FAR, -FAR]),
+    "prime_modulus_rule": (OF_PRIME, errors.InvalidRule, NO_RULES + [
+        (6, ((0, 1),)), (6, ()), (10, ()), (15, ((0, 1), (1, 1)))]),
+    "led_rule": ((6, ((-1, 1), (1, 5))), errors.InvalidRule, NO_RULES),
+    "two_values": ((0, 1), errors.InvalidCells, [
+        None, [0, 1], (0,), (0, 1, 0), (0, 6), (-1, 0), (0, False), (0, [1]), (), ((0, 1),), {0: 1}, "01", [[0], [0]]]),
     "object": (None, None, []),
 }
 
@@ -182,11 +212,34 @@ TAKEN = {
     rounds.round_bars: (["rule", "round", "object"], (0, 1)),
     rounds.least_ahead: (["rule", "round"], (0, 1)),
     rounds.comes_again: (["rule", "round"], (0, 1)),
+    rings.losing: (["rule"], ()),
+    rings.loses: (["rule", "many"], ()),
+    rings.nought_dims: (["rule", "many"], ()),
+    rings.coming_dims: (["rule", "many"], ()),
+    rings.longest_tail: (["rule", "many"], ()),
+    rings.first_unlike_ring: (["rule", "rule"], (0, 1)),
+    rings.ring_round: (["rule", "many"], ()),
+    rings.rounds_of: (["rule", "many"], ()),
+    walls.unfolded: (["round", "kind"], ()),
+    walls.walled_step: (["even_rule", "round", "kind"], (0, 1)),
+    walls.walled_after: (["even_program", "round", "kind"], (0, 1)),
+    walls.walled_losing: (["even_rule", "kind"], ()),
+    walls.walled_noughts: (["even_rule", "kind", "many"], ()),
+    walls.walled_tail: (["even_rule", "kind", "many"], ()),
+    keptsums.free_weights: (["led_rule", "factor_of"], ()),
+    keptsums.weight: (["led_rule", "factor_of", "two_values", "place"], ()),
+    keptsums.weighted: (["led_rule", "factor_of", "two_values", "row"], (0, 3)),
+    keptsums.weights_round: (["led_rule", "factor_of", "two_values"], ()),
+    keptsums.ring_weights: (["rule", "factor_of", "many"], ()),
+    keptsums.weight_rings: (["rule", "factor_of"], ()),
+    keptsums.all_round_weights: (["prime_modulus_rule", "factor_of_prime", "many"], ()),
 }
 
 # One value of each kind of which a modulus is a part.
 OF_MODULUS = {
     "rule": lambda m: (m, ((-1, 1), (2, m - 1))), "live_rule": lambda m: (m, ((-1, 1), (2, m - 1))),
-    "prime_rule": lambda m: (m, ((-1, 1), (2, m - 1))), "row": lambda m: (m, ((FAR, m - 1),)),
+    "prime_rule": lambda m: (m, ((-1, 1), (2, m - 1))), "even_rule": lambda m: (m, ((-1, 1), (0, m - 1), (1, 1))),
+    "led_rule": lambda m: (m, ((-1, 1), (1, m - 1))), "even_program": lambda m: (m, ((((0, m - 1),), 10 ** 30),)),
+    "row": lambda m: (m, ((FAR, m - 1),)),
     "round": lambda m: (m, (0, 1)), "prime_round": lambda m: (m, (0, 1)),
     "program": lambda m: (m, ((((-1, 1), (2, m - 1)), 10 ** 30),))}

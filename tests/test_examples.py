@@ -80,6 +80,31 @@ ROUNDS = """
 [True, 4, 4, (2, 1), (0, 1)]
 """
 
+RINGS = """
+>>> from nearadds.rings import coming_dims, first_unlike_ring, longest_tail, loses, losing, nought_dims, ring_round, rounds_of
+>>> both, three = (2, ((-1, 1), (1, 1))), (2, ((-1, 1), (0, 1), (1, 1)))
+>>> [losing(both), losing(three), loses(three, 10 ** 30), nought_dims(three, 6), coming_dims(three, 6), longest_tail(three, 6), first_unlike_ring(both, three)]
+[[1], [3], False, [(2, 2)], [(2, 2)], 2, 1]
+>>> [ring_round(three, 4), rounds_of(three, 4)]
+[2, [(1, 4), (2, 12)]]
+"""
+
+WALLS = """
+>>> from nearadds.walls import unfolded, walled_losing, walled_noughts, walled_step, walled_tail
+>>> both, three = (2, ((-1, 1), (1, 1))), (2, ((-1, 1), (0, 1), (1, 1)))
+>>> [unfolded((3, (1, 2)), "nought"), walled_step(both, (2, (1, 0, 0)), "nought"), walled_step(both, (2, (1, 0, 0)), "mirror")]
+[(3, (1, 2, 0, 1, 2, 0)), (2, (0, 1, 0)), (2, (1, 1, 0))]
+>>> [walled_losing(both, "nought"), walled_losing(both, "mirror"), walled_losing(three, "nought"), walled_losing(three, "mirror"), walled_noughts(both, "nought", 7), walled_tail(both, "nought", 7)]
+[[2], [1], [3], [3], [(2, 1)], 7]
+"""
+
+KEPTSUMS = """
+>>> from nearadds.keptsums import all_round_weights, free_weights, ring_weights, weight, weight_rings, weighted, weights_round
+>>> both, three = (2, ((-1, 1), (1, 1))), (2, ((-1, 1), (0, 1), (1, 1)))
+>>> [free_weights(three, 1), weight(three, 1, (1, 0), 10 ** 50), weighted(three, 1, (1, 0), (2, ((0, 1), (3, 1)))), weights_round(three, 1, (1, 0)), ring_weights(three, 1, 6), weight_rings(three, 1), all_round_weights(three, 1, 4)]
+[2, 1, 1, 2, [(2, 2)], [1], [[1, 0, 1, 0], [0, 1, 0, 1]]]
+"""
+
 
 class Examples(unittest.TestCase):
 
@@ -116,3 +141,12 @@ class Examples(unittest.TestCase):
 
     def test_rounds(self):
         self.shown(ROUNDS)
+
+    def test_rings(self):
+        self.shown(RINGS)
+
+    def test_walls(self):
+        self.shown(WALLS)
+
+    def test_keptsums(self):
+        self.shown(KEPTSUMS)

@@ -10,7 +10,8 @@ from tests.worked import FAR, MODULI, PRIMES, odd_objects, one_cell, spoiled
 from tests.worked import told_factor, told_factored, told_parts, told_program, told_round, told_rule
 
 OF_ANY_OBJECT = ("rule", "live_rule", "prime_rule", "program", "row", "round", "prime_round", "parts", "list",
-                 "factor", "values", "looks", "cells")
+                 "factor", "values", "looks", "cells", "even_rule", "even_program", "kind", "led_rule",
+                 "prime_modulus_rule")
 
 
 def names_of(call):

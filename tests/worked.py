@@ -462,3 +462,88 @@ def kept_by(weights, cells, low, high, prime):
     """Whether all these sums are 0 that need but cells from low to high."""
     places = range(low - weights[0][0], high - weights[-1][0] + 1)
     return all(sum(weight * cells[j + offset] for offset, weight in weights) % prime == 0 for j in places)
+
+
+# Tables of steps: rows of remainders, one for each cell that is 1 alone
+
+
+def rank_of(rows, prime):
+    """How many rows of a table are left if each is freed of multiples of the ones ahead of it."""
+    pivots = []
+    for row in rows:
+        left = [value % prime for value in row]
+        for at, pivot in pivots:
+            much = left[at]
+            left = [(value - much * other) % prime for value, other in zip(left, pivot)]
+        found = [at for at, value in enumerate(left) if value]
+        if found:
+            share = pow(left[found[0]], -1, prime)
+            pivots.append((found[0], [value * share % prime for value in left]))
+    return len(pivots)
+
+
+def table_of(behind, many, prime):
+    """The table of what is left of each cell that is 1 alone by a step, told by a function of lists of values."""
+    return [[value % prime for value in behind(tuple(int(k == at) for k in range(many)))] for at in range(many)]
+
+
+def ring_table(rule, n, prime):
+    return table_of(lambda values: round_behind((prime, left_modulo(rule, prime)), (prime, values))[1], n, prime)
+
+
+def table_product(one, other, prime):
+    columns = list(zip(*other))
+    return [[sum(a * b for a, b in zip(row, column)) % prime for column in columns] for row in one]
+
+
+def table_power(table, times, prime):
+    made, square = [[int(k == m) for m in range(len(table))] for k in range(len(table))], table
+    while times:
+        if times & 1:
+            made = table_product(made, square, prime)
+        square = table_product(square, square, prime)
+        times >>= 1
+    return made
+
+
+def nought_rank(table, prime):
+    """The dimension of the rows of which a table leaves 0 alone."""
+    return len(table) - rank_of(table, prime)
+
+
+def tail_and_rank(table, prime):
+    """How many steps lower the rank still, and the rank behind them."""
+    tail, made = 0, table_power(table, 0, prime)
+    ranks = [len(table)]
+    while True:
+        made = table_product(made, table, prime)
+        ranks.append(rank_of(made, prime))
+        if ranks[-1] == ranks[-2]:
+            return tail, ranks[-1]
+        tail += 1
+
+
+def common_of(one, other, prime):
+    """The greatest polynomial that divides two tuples of coefficients, not both nought, by remainders."""
+    one, other = cut(one), cut(other)
+    while other:
+        share = pow(other[-1], -1, prime)
+        other = tuple(value * share % prime for value in other)
+        one, other = other, cut(rest_by(one, other, prime))
+    return one
+
+
+def cut(values):
+    values = list(values)
+    while values and values[-1] == 0:
+        values.pop()
+    return tuple(values)
+
+
+def prime_parts_of(number):
+    return [q for q in range(2, number + 1) if number % q == 0 and all(q % d for d in range(2, int(q ** 0.5) + 1))]
+
+
+def least_of_multiples(numbers):
+    """Those of some numbers that are multiples of no other one of them."""
+    return [n for n in sorted(set(numbers)) if not [d for d in numbers if d < n and n % d == 0]]
