@@ -195,6 +195,11 @@ def step(rule, row):
     need_rule(rule)
     need_row(row)
     need_same(rule, row)
+    return row_behind(rule, row)
+
+
+def row_behind(rule, row):
+    """The same of two that are known to be a rule and a finite row of one modulus."""
     # A cell at a place is added to the cells at the place less each offset.
     back = [(-offset, factor) for offset, factor in rule[1]]
     return row[0], left_of(products_of(row[1], back), row[0])

@@ -1,7 +1,7 @@
 """What the interface lists, and of each argument good values and such as are refused."""
 
-from nearadds import backward, errors, factors, farcells, keptsums, kernels, meets, programs, rings, rounds, rules
-from nearadds import toldback, walls
+from nearadds import backward, errors, factors, farcells, keptsums, kernels, meets, programs, reading, rings, rounds
+from nearadds import rules, texts, toldback, walls
 from tests.worked import FAR
 
 INTERFACE = {
@@ -59,6 +59,8 @@ INTERFACE = {
         "weights_round": "rule factor values", "ring_weights": "rule factor n", "weight_rings": "rule factor",
         "all_round_weights": "rule factor n",
     },
+    texts: {"show_rule": "rule", "show_row": "row", "show_round": "row", "show_program": "program"},
+    reading: {"read_rule": "text", "read_row": "text", "read_round": "text", "read_program": "text"},
 }
 
 RULE, ROW, ROUND = (6, ((-1, 2), (1, 3))), (6, ((0, 1), (5, 4))), (6, (0, 5, 3))
@@ -74,6 +76,10 @@ NO_RULES = [
 NO_ROUNDS = [
     None, (6, ()), [6, [0]], (6, [0, 1]), (6, (6,)), (6, (-1,)), (6, (True,)), (12, (0,)), (6, ((0, 1),)),
     (6, (0, [1], ([2], [3])))]
+
+NO_TEXTS = [
+    None, "", "6", "6:", "6: ", "6:-", "4: -", "06: -", " 6: -", "6: -\n", "6: 1,5", b"6: -", ["6: -"], ("6: -",),
+    {"6: -": []}, [[], (["6"],)], 6, True]
 
 NO_PROGRAMS = [
     None, [6, ()], (6, []), (6, ((),)), (6, (((), -1),)), (6, (((), 10 ** 30 + 1),)), (6, (((), True),)),
@@ -134,6 +140,11 @@ KINDS = {
         (((1, True, 5), 2),), (((1, 0, 5), False),), (((1, 0, 5),),), (((1, 0, 5), 2, 2),), {0: LOOKS}, [[[1]], ([2],)]]),
     "cells": ((2, 0, 5), errors.InvalidCells, [
         None, [2, 0, 5], (2, 0), (2, 0, 5, 0), (2, 0, 6), (-1, 0, 5), (2, False, 5), (2, (0,), [5]), (), "205"]),
+    "rule_text": ("6: -1*2 1*3", errors.Unreadable, NO_TEXTS + [RULE, "6: 0=5", "6: 0*6", "6: 1*1 0*1"]),
+    "row_text": ("6: 0=1 5=4", errors.Unreadable, NO_TEXTS + [ROW, "6: 0*5", "6: 0=0", "6: 0=1 0=1"]),
+    "round_text": ("6: 0 5 3", errors.Unreadable, NO_TEXTS + [ROUND, "6: -", "6: 6", "6: -1", "6: 0 5 3 "]),
+    "program_text": ("6: -1*2 1*3 ^ 3; - ^ 0", errors.Unreadable, NO_TEXTS + [
+        PROGRAM, "6: 0*5", "6: - ^ -1", "6: 0*5 ^ 1;- ^ 0", "6: -; -"]),
     "place": (5, None, []),
     "many": (6, errors.InvalidNumber, [0, -1, -6, -FAR]),
     "kind": ("mirror", errors.InvalidWalls, [
@@ -233,6 +244,14 @@ TAKEN = {
     keptsums.ring_weights: (["rule", "factor_of", "many"], ()),
     keptsums.weight_rings: (["rule", "factor_of"], ()),
     keptsums.all_round_weights: (["prime_modulus_rule", "factor_of_prime", "many"], ()),
+    texts.show_rule: (["rule"], ()),
+    texts.show_row: (["row"], ()),
+    texts.show_round: (["round"], ()),
+    texts.show_program: (["program"], ()),
+    reading.read_rule: (["rule_text"], ()),
+    reading.read_row: (["row_text"], ()),
+    reading.read_round: (["round_text"], ()),
+    reading.read_program: (["program_text"], ()),
 }
 
 # One value of each kind of which a modulus is a part.

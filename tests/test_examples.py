@@ -105,6 +105,28 @@ KEPTSUMS = """
 [2, 1, 1, 2, [(2, 2)], [1], [[1, 0, 1, 0], [0, 1, 0, 1]]]
 """
 
+LIVEROW = """
+>>> from nearadds.liverow import Live
+>>> both, three = (2, ((-1, 1), (1, 1))), (2, ((-1, 1), (0, 1), (1, 1)))
+>>> live = Live((2, ((0, 1),)))
+>>> [live.step(both), live.step(both), live.row, live.back(both), live.undo(), live.count(), live.far((2, ((both[1], 2),)), 0), len(live)]
+[3, 4, (2, ((-2, 1), (2, 1))), 4, 'back', 2, 0, 2]
+"""
+
+TEXTS = """
+>>> from nearadds.texts import show_program, show_round, show_row, show_rule
+>>> both, three = (2, ((-1, 1), (1, 1))), (2, ((-1, 1), (0, 1), (1, 1)))
+>>> [show_rule(both), show_row((3, ((-5, 2), (0, 1)))), show_round((2, (1, 0))), show_program((2, ((both[1], 4), ((), 0)))), show_rule((5, ()))]
+['2: -1*1 1*1', '3: -5=2 0=1', '2: 1 0', '2: -1*1 1*1 ^ 4; - ^ 0', '5: -']
+"""
+
+DESK = """
+>>> from nearadds.desk import Desk
+>>> desk = Desk()
+>>> [desk.execute(line) for line in ["row 2: 0=1", "step 2: -1*1 1*1", "show", "far 0 2: -1*1 1*1 ^ 1", "put 7 1", "count", "undo", "total"]]
+['ok', '3', '2: -1=1 1=1', '0', '1', '3', 'put', '0']
+"""
+
 
 class Examples(unittest.TestCase):
 
@@ -150,3 +172,12 @@ class Examples(unittest.TestCase):
 
     def test_keptsums(self):
         self.shown(KEPTSUMS)
+
+    def test_liverow(self):
+        self.shown(LIVEROW)
+
+    def test_texts(self):
+        self.shown(TEXTS)
+
+    def test_desk(self):
+        self.shown(DESK)

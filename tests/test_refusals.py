@@ -11,7 +11,7 @@ from tests.worked import told_factor, told_factored, told_parts, told_program, t
 
 OF_ANY_OBJECT = ("rule", "live_rule", "prime_rule", "program", "row", "round", "prime_round", "parts", "list",
                  "factor", "values", "looks", "cells", "even_rule", "even_program", "kind", "led_rule",
-                 "prime_modulus_rule")
+                 "prime_modulus_rule", "rule_text", "row_text", "round_text", "program_text")
 
 
 def names_of(call):
