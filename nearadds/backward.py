@@ -3,8 +3,8 @@
 from nearadds.errors import InvalidNumber, InvalidRule
 from nearadds.factors import coefficients
 from nearadds.forms import is_remainders, renewed
-from nearadds.polys import divided
-from nearadds.recurring import far_remainder, turns_of_poly
+from nearadds.polys import divided, stretched
+from nearadds.recurring import row_remainder, turns_for
 from nearadds.rules import by_prime, has_prime, need_row, need_rule, need_same, primes_of, put_together
 from nearadds.spreads import by_places
 
@@ -28,22 +28,34 @@ def need_both(rule, row):
 def ahead(rule, row):
     """The finite row of which one step leaves this one; None if there is none."""
     need_both(rule, row)
-    parts = [ahead_by(by_prime(rule, prime), by_prime(row, prime), prime) for prime in primes_of(row[0])]
+    return led_back(rule, row, 1)
+
+
+def led_back(rule, row, times):
+    """The finite row that leaves this one in so many steps; None if there is none."""
+    parts = [back_by(by_prime(rule, prime), by_prime(row, prime), times, prime) for prime in primes_of(row[0])]
     if any([part is None for part in parts]):
         return None
     return put_together(row[0], parts)
 
 
-def ahead_by(terms, cells, prime):
-    """The cells of the finite row ahead modulo a prime; None if there is none."""
+def back_by(terms, cells, times, prime):
+    """The cells of this row modulo a prime; None if there is none."""
     if not cells:
         return ()
-    often, rest = divided(coefficients(cells), by_places(terms), prime)
-    if rest:
-        return None
+    left, poly = coefficients(cells), by_places(terms)
+    number, share = times, 1
+    while number:
+        # A rule done as often as the prime is the rule with its offsets so many times as great (F1).
+        for _ in range(number % prime):
+            left, rest = divided(left, stretched(poly, share), prime)
+            if rest:
+                return None
+        number = number // prime
+        share = share * prime
     # The least place that a step reaches is the least one less the greatest offset.
-    first = cells[0][0] + terms[-1][0]
-    return tuple([(first + k, value) for k, value in enumerate(often) if value])
+    first = cells[0][0] + terms[-1][0] * times
+    return tuple([(first + k, value) for k, value in enumerate(left) if value])
 
 
 def bar(rule, row):
@@ -63,12 +75,7 @@ def remainder(rule, row, prime):
     An endless row of bars is told by its first values, as many as the rule is wide modulo the prime.
     """
     poly = by_places(by_prime(rule, prime))
-    turns = turns_of_poly(poly, prime)
-    sums = [0] * (len(poly) - 1)
-    for place, value in by_prime(row, prime):
-        left = far_remainder(place, poly, turns, prime)
-        sums = [(total + value * much) % prime for total, much in zip(sums, left)]
-    return sums
+    return row_remainder(by_prime(row, prime), poly, turns_for(len(poly) - 1, 1, prime), prime)
 
 
 def bars(rule, row, value):
@@ -96,11 +103,19 @@ def steps_back(rule, row):
 
 def times_in(row, poly, prime):
     """How often a polynomial, not nought, can be divided by another one with two coefficients or more."""
-    times = -1
-    rest = []
-    while not rest:
-        times += 1
-        row, rest = divided(row, poly, prime)
+    share = 1
+    while (len(poly) - 1) * share * prime < len(row):
+        share = share * prime
+    times = 0
+    while share:
+        # Modulo the prime this is the polynomial to the share.
+        power = stretched(poly, share)
+        often, rest = divided(row, power, prime)
+        while not rest:
+            times += share
+            row = often
+            often, rest = divided(row, power, prime)
+        share = share // prime
     return times
 
 
@@ -109,8 +124,4 @@ def row_back(rule, row, times):
     need_both(rule, row)
     if not 0 <= times <= MOST_BACK:
         raise InvalidNumber(times)
-    for _ in range(times):
-        row = ahead(rule, row)
-        if row is None:
-            return None
-    return row
+    return led_back(rule, row, times)

@@ -4,6 +4,8 @@ A rule is told as by_places (spreads.py) tells it, and its first place: what it 
 both as polynomials, moved by the first place.
 """
 
+from nearadds.blocks import levels_of
+from nearadds.lanes import text_of, values_of
 from nearadds.polys import divided, in_both, multiplied, times_x, trimmed
 
 
@@ -108,3 +110,30 @@ def done_often(terms, times, values, prime):
         times = times // prime
         stretch = stretch * prime % len(values)
     return values
+
+
+def left_around(told, values, prime):
+    """The values that a spread (spreads.py) leaves of a round row modulo a prime."""
+    first, parts = told
+    many = len(values)
+    lanes, levels = levels_of(parts, prime, many)
+    number = 1
+    # From the first figures of the times on: behind each level all powers of the ones ahead are stretched.
+    for _, level in levels[::-1]:
+        number = laid_around(lanes, lanes.number(lanes.text(number, 0, 1), prime), many)
+        number = laid_around(lanes, lanes.multiplied(number, level), many)
+    number = laid_around(lanes, lanes.multiplied(number, lanes.number(text_of(values), 1)), many)
+    left = values_of(lanes.text(number, 0, 1))
+    left = left + [0] * (many - len(left))
+    by = -first % many
+    return left[by:] + left[:by]
+
+
+def laid_around(lanes, number, many):
+    """A polynomial in lanes where x to the power many is 1."""
+    width = lanes.width * many
+    total = 0
+    while number:
+        total += number & ((1 << width) - 1)
+        number = number >> width
+    return lanes.reduced(total)

@@ -2,7 +2,8 @@
 
 from nearadds.errors import InvalidFactor, InvalidNumber
 from nearadds.forms import ascends, is_number, is_two, is_within, renewed
-from nearadds.polys import in_both, monic, power_of_x, product_of
+from nearadds.leavings import Leavings
+from nearadds.polys import in_both, monic, product_of
 from nearadds.rules import by_prime, need_rule, need_rules, primes_of, put_together
 from nearadds.splitting import is_unsplit, prime_factors
 
@@ -100,8 +101,9 @@ def order(prime, factor):
         number = number * prime
     # The order divides this number: so what divides it may be taken off as long as the power stays 1.
     number -= 1
+    leavings = Leavings(factor, prime)
     for divisor in divisors_of(number):
-        while number % divisor == 0 and power_of_x(number // divisor, factor, prime) == [1]:
+        while number % divisor == 0 and leavings.power(number // divisor) == leavings.one:
             number = number // divisor
     return number
 

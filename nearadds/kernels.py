@@ -1,10 +1,10 @@
 """Endless rows that die out: how many there are, what stands far on in one, and how long it takes."""
 
 from nearadds.errors import InvalidCells, InvalidNumber, InvalidRule
-from nearadds.factors import common, factored
+from nearadds.factors import coefficients, common, factored
 from nearadds.forms import is_remainders, renewed
 from nearadds.polys import divided, product_of
-from nearadds.recurring import far_remainder, turns_of
+from nearadds.recurring import row_remainder, turns_for, turns_of
 from nearadds.rules import MOST_TIMES, need_round, need_rule, need_same, primes_of, round_step
 
 MOST_FREE = 40
@@ -47,9 +47,10 @@ def parts_done(rule, times):
 def dying_cell(rule, times, values, place):
     """The value at a place of the endless row that dies out in so many steps and has these values from 0 on."""
     need_dying(rule, times, values)
-    parts = parts_done(rule, times)
-    rest = far_remainder(place, product_of(parts, rule[0]), turns_of(parts, rule[0]), rule[0])
-    return sum([value * much for value, much in zip(values, rest)]) % rule[0]
+    prime = rule[0]
+    poly = product_of([(coefficients(rule[1]), times)], prime)
+    rest = row_remainder([(place, 1)], poly, turns_for(width_of(rule), times, prime), prime)
+    return sum([value * much for value, much in zip(values, rest)]) % prime
 
 
 def dying_round(rule, times, values):

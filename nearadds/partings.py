@@ -8,7 +8,7 @@ is a power to p ** v of another one of which some number is not divided by p: th
 """
 
 from nearadds.equations import one_at
-from nearadds.polys import divided, in_both, monic, multiplied, power_by, slope, trimmed
+from nearadds.polys import divided, in_both, monic, multiplied, power_by, slope, stretched, trimmed
 from nearadds.spreads import spread
 
 
@@ -111,12 +111,4 @@ def figure_product(parts, stretch, size, prime):
     for part, times in parts:
         for _ in range(times // stretch % prime):
             made = trimmed(multiplied(made, part[:size], prime)[:size], prime)
-    return made
-
-
-def stretched(poly, stretch):
-    """A polynomial with each power so many times as great."""
-    made = [0] * ((len(poly) - 1) * stretch + 1)
-    for power, value in enumerate(poly):
-        made[power * stretch] = value
     return made

@@ -1,6 +1,6 @@
 """Polynomials modulo a prime: lists of remainders from the power 0 on, the last one not 0; [] is nought."""
 
-from nearadds.packing import packed, unpacked, width_for
+from nearadds.lanes import Lanes, text_of, values_of
 
 SHORT = 12
 
@@ -39,7 +39,7 @@ def monic(poly, prime):
 def multiplied(one, other, prime):
     """The product of two polynomials."""
     if min(len(one), len(other)) > SHORT:
-        return multiplied_packed(list(one), list(other), prime)
+        return multiplied_in_lanes(one, other, prime)
     sums = [0] * (len(one) + len(other) - 1)
     for k, value in enumerate(one):
         for m, factor in enumerate(other):
@@ -47,11 +47,11 @@ def multiplied(one, other, prime):
     return trimmed(sums, prime)
 
 
-def multiplied_packed(one, other, prime):
+def multiplied_in_lanes(one, other, prime):
     """The same of two long polynomials."""
-    width = width_for(prime, min(len(one), len(other)))
-    number = packed(one, width) * packed(other, width)
-    return trimmed(unpacked(number, len(one) + len(other) - 1, width), prime)
+    lanes = Lanes(prime, min(len(one), len(other)))
+    number = lanes.multiplied(lanes.number(text_of(one), 1), lanes.number(text_of(other), 1))
+    return trimmed(values_of(lanes.text(number, 0, 1)), prime)
 
 
 def product_of(parts, prime):
@@ -69,10 +69,13 @@ def divided(one, other, prime):
     share = inverse(other[-1], prime)
     many = len(one) - len(other) + 1
     often = [0] * max(0, many)
+    terms = [(k, value) for k, value in enumerate(other) if value]
     for at in reversed(range(many)):
-        often[at] = left[at + len(other) - 1] * share % prime
-        for k, value in enumerate(other):
-            left[at + k] = (left[at + k] - often[at] * value) % prime
+        much = left[at + len(other) - 1] * share % prime
+        if much:
+            often[at] = much
+            for k, value in terms:
+                left[at + k] = (left[at + k] - much * value) % prime
     return often, trimmed(left, prime)
 
 
@@ -81,6 +84,14 @@ def in_both(one, other, prime):
     while other:
         one, other = other, divided(one, other, prime)[1]
     return monic(one, prime)
+
+
+def stretched(poly, stretch):
+    """A polynomial with each power so many times as great."""
+    made = [0] * ((len(poly) - 1) * stretch + 1)
+    for power, value in enumerate(poly):
+        made[power * stretch] = value
+    return made
 
 
 def slope(poly, prime):
@@ -93,12 +104,10 @@ def times_x(row, poly, prime):
     return [(value - row[-1] * much) % prime for value, much in zip([0] + row[:-1], poly)]
 
 
-def power_of_x(times, poly, prime):
-    """What a polynomial, its first coefficient not 0, leaves of x to a power from 0 on."""
-    made = [1]
-    for at in reversed(range(times.bit_length())):
-        made = multiplied(made, made, prime)
-        if times >> at & 1:
-            made = [0] + made
-        made = divided(made, poly, prime)[1]
-    return made
+def figures(number, base):
+    """The list of the figures of an integer from 0 on to a base, the last one ahead."""
+    found = []
+    while number:
+        found.append(number % base)
+        number = number // base
+    return found

@@ -8,8 +8,10 @@ x to the power place.
 from math import lcm
 
 from nearadds.factors import order
-from nearadds.polys import monic, power_of_x
-from nearadds.splitting import prime_factors
+from nearadds.leavings import Leavings
+
+# Farther powers of x are not worked out by multiplying by x on and on.
+NEAR = 64
 
 
 def turns_of(parts, prime):
@@ -23,17 +25,35 @@ def turns_of(parts, prime):
     return turns * share
 
 
-def turns_of_poly(poly, prime):
-    """The same for a polynomial, its first coefficient not 0."""
-    return turns_of(prime_factors(monic(poly, prime), prime), prime)
+def turns_for(width, times, prime):
+    """A number n from 1 on such that x ** n - 1 is divided by each polynomial to these times that is so wide at most.
 
-
-def far_remainder(place, poly, turns, prime):
-    """The list of as many coefficients as the last power of a polynomial of what it leaves of x to any place.
-
-    The polynomial divides x to the turns, less 1.
+    The first and the last coefficient of the polynomial are not 0.
     """
-    if len(poly) == 1:
-        return []
-    left = power_of_x(place % turns, poly, prime)
-    return left + [0] * (len(poly) - 1 - len(left))
+    turns = power = share = 1
+    for _ in range(width):
+        power = power * prime
+        turns = lcm(turns, power - 1)
+    while share < width * times:
+        share = share * prime
+    return turns * share
+
+
+def row_remainder(cells, poly, turns, prime):
+    """The list of as many remainders as a polynomial is wide: the sum of what it leaves of x to the places of cells.
+
+    Each is multiplied by its value. The polynomial divides x to the turns, less 1.
+    """
+    sums = [0] * (len(poly) - 1)
+    if not sums:
+        return sums
+    leavings = Leavings(poly, prime)
+    power, at = leavings.one, 0
+    for place, value in cells:
+        if 0 <= place - at < NEAR:
+            power = leavings.further(power, place - at)
+        else:
+            power = leavings.power(place % turns)
+        sums = [(total + value * much) % prime for total, much in zip(sums, power)]
+        at = place
+    return sums

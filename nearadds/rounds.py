@@ -2,11 +2,11 @@
 
 from math import lcm
 
-from nearadds.circles import common_with, done_often, one_ahead, share_of, stepped, weights_against
+from nearadds.circles import common_with, done_often, left_around, one_ahead, share_of, stepped, weights_against
 from nearadds.factors import divisors_of
 from nearadds.forms import is_remainders
 from nearadds.rules import by_prime, has_prime, need_program, need_round, need_rule, need_same, one_for, primes_of
-from nearadds.spreads import by_places
+from nearadds.spreads import by_places, spread
 
 
 def need_both(rule, row):
@@ -37,10 +37,8 @@ def round_after(program, row):
     need_same(program, row)
     parts = []
     for prime in primes_of(row[0]):
-        values = rests_of(row, prime)
-        for terms, times in program[1]:
-            values = done_often(by_prime((program[0], terms), prime), times, values, prime)
-        parts.append(values)
+        told, values = spread(program, prime), rests_of(row, prime)
+        parts.append([0] * len(values) if told is None else left_around(told, values, prime))
     return round_of(row[0], parts)
 
 

@@ -5,8 +5,9 @@ are the coefficients of the product of poly to the power times over all parts (p
 coefficient of each poly are not 0. It is None where the program makes all 0.
 """
 
-from nearadds.blocks import block, levels_of
+from nearadds.blocks import clusters, levels_of, value_at, window
 from nearadds.factors import coefficients
+from nearadds.lanes import values_of
 from nearadds.rules import by_prime, one_for, primes_of
 
 
@@ -52,12 +53,16 @@ def values_left(program, cells, place, count):
 
 def values_modulo(told, cells, place, count, prime):
     """The same modulo a prime, by the spread there."""
-    sums = [0] * count
     if told is None:
-        return sums
-    levels = levels_of(told[1], prime)
-    for at, value in cells:
-        if value % prime:
-            values = block(levels, place - at - told[0], count, prime)
-            sums = [(total + value * much) % prime for total, much in zip(sums, values)]
+        return [0] * count
+    lanes, levels = levels_of(told[1], prime, 1)
+    if count == 1:
+        return [value_at(lanes, levels, cells, place - told[0])]
+    sums = [0] * count
+    for at, text in clusters(cells, prime):
+        # The values at the places asked for, of cells of the cluster one behind the other, lie in one window.
+        values = window(lanes, levels, place - at - len(text) + 1 - told[0], count + len(text) - 1)
+        for k, value in enumerate(values_of(text[::-1])):
+            if value:
+                sums = [(total + value * much) % prime for total, much in zip(sums, values[k:])]
     return sums

@@ -4,12 +4,11 @@ Modulo each prime a look is one equation: the sum of its cells times the factors
 told from the least offset to the greatest one.
 """
 
-from itertools import combinations
-
 from nearadds.equations import cleared, echelon
 from nearadds.errors import InvalidCells, InvalidLooks, InvalidNumber, NoRule
 from nearadds.forms import is_number, is_remainders, is_two, is_within, renewed
 from nearadds.rules import by_prime, has_prime, is_rule, one_for, primes_of, put_together
+from nearadds.wronglooks import first_left_out, state_of
 
 MOST_REACH = 3
 
@@ -238,9 +237,12 @@ def which_wrong(modulus, reach, looks):
     """The first of all lists of the indexes of so many."""
     primes = need_looks(modulus, reach, looks)
     many = 2 * reach + 1
-    for number in range(len(looks)):
-        for left_out in combinations(range(len(looks)), number):
-            kept = tuple([look for k, look in enumerate(looks) if k not in left_out])
-            if solutions(kept, many, primes) is not None:
-                return list(left_out)
-    return list(range(len(looks)))
+    states = []
+    for prime in primes:
+        rest = solved(looks, many, prime)[2]
+        states.append(state_of([row[many + 1:] for row in rest], [row[many] for row in rest], len(looks), prime))
+    number, found = 0, None
+    while found is None:
+        found = first_left_out(states, 0, number, len(looks))
+        number += 1
+    return found
