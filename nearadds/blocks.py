@@ -50,6 +50,14 @@ def level_number(lanes, powers, often, made):
     return made[often]
 
 
+def last_power(lanes, levels):
+    """The last power of what the levels make up."""
+    power = 0
+    for last, _ in levels[::-1]:
+        power = power * lanes.prime + last
+    return power
+
+
 def clusters(cells, prime):
     """The list of tuples (place, text) of cells near one another: the text tells the values from the place on."""
     found = []
@@ -70,9 +78,7 @@ def value_at(lanes, levels, cells, place):
     Where the figures are gone through from the last one on, of cells and a level multiplied but each p-th coefficient
     counts: so many powers with the place's own last figure.
     """
-    reach = 0
-    for last, _ in levels[::-1]:
-        reach = reach * lanes.prime + last
+    reach = last_power(lanes, levels)
     told = [(place - at, text) for at, text in clusters(cells, lanes.prime)][::-1]
     told = [(power, text) for power, text in told if 0 <= power < reach + len(text)]
     for _, level in levels:
@@ -98,6 +104,8 @@ def put_near(lanes, told, power, text):
 
 def window(lanes, levels, low, many):
     """The list of so many coefficients, from a power on, of what the levels make up."""
+    if low + many <= 0 or low > last_power(lanes, levels):
+        return [0] * many
     windows = [(low, low + many)]
     for last, _ in levels:
         low, high = windows[-1]

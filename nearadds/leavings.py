@@ -18,7 +18,7 @@ class Leavings:
         self.lanes = Lanes(prime, len(poly) - 1)
         self.numbers = []
         row = self.one
-        for _ in row:
+        for _ in self.one:
             self.numbers.append(self.lanes.number(text_of(row), 1))
             row = self.further(row, prime)
 
@@ -33,6 +33,6 @@ class Leavings:
         row = self.one
         for figure in figures(times, self.prime)[::-1]:
             number = sum([value * other for value, other in zip(row, self.numbers)])
-            left = values_of(self.lanes.text(self.lanes.reduced(number), 0, 1)[:len(row)])
+            left = values_of(self.lanes.text(self.lanes.reduced(number), 0, 1))
             row = self.further(left + [0] * (len(row) - len(left)), figure)
         return row

@@ -222,3 +222,40 @@ class Meets(Case):
                 self.same([meets(one, other), meets_often(one, other)], [(b, a), "multiples"])
                 self.same(meets_at(one, other, b * 10 ** 29, a * 10 ** 29), True)
                 self.same(meets_at(one, other, b * 10 ** 29, a * 10 ** 29 - 1), False)
+
+
+class ReportedAsLong(Case):
+    """A call of which it was reported that it took long: what it told then it tells still."""
+
+    PROGRAM = (10, (
+        (((-4, 3), (-3, 5), (-2, 6), (-1, 2), (3, 7), (4, 2)), 999999999999999999999999999932),
+        (((-4, 7), (-2, 8), (-1, 8), (0, 9), (1, 9), (2, 1), (4, 1)), 532684684067206297915874785879),
+        (((0, 7), (1, 9)), 717620657672411690224271274768),
+        (((-4, 2), (-3, 5), (-2, 1), (0, 1), (2, 8), (3, 4), (4, 9)), 1000000000000000000000000000000),
+        (((-4, 8), (-3, 7), (-1, 8), (0, 6), (1, 2), (2, 4), (3, 1), (4, 4)), 470868111293119958474936813649),
+        (((-4, 3), (-2, 8), (-1, 2), (3, 2)), 999999999999999999999999999967)))
+    NEAR = 53288855297638219774221969325311314941591014827060056226610
+    PLACE = 53288855297638219774221969326309944402509317957534636479011
+
+    def row(self, gap):
+        return 10, tuple((self.NEAR + gap * k, 1 + k % 9) for k in range(30))
+
+    def test_the_cell(self):
+        self.same(cell(self.PROGRAM, self.row(5), self.PLACE), 1)
+
+    def test_cells_near_it_and_cells_of_rows_that_are_added(self):
+        told = cells(self.PROGRAM, self.row(5), self.PLACE - 9, 20)
+        self.same(told[9], 1)
+        for k in (0, 4, 19):
+            self.same(cell(self.PROGRAM, self.row(5), self.PLACE - 9 + k), told[k])
+        # What is left of a row is the sum of what is left of its cells, one by one.
+        for gap in (5, 10 ** 9, 10 ** 28):
+            for many in (1, 3):
+                row = self.row(gap)
+                by_cells = [cells(self.PROGRAM, (10, (one,)), self.PLACE, many) for one in row[1]]
+                self.same(cells(self.PROGRAM, row, self.PLACE, many), [sum(part) % 10 for part in zip(*by_cells)])
+
+    def test_one_cell_traced_back(self):
+        for k in (0, 29):
+            row = (10, self.row(5)[1][k:k + 1])
+            self.same(cell(self.PROGRAM, row, self.PLACE), far_value(self.PROGRAM, row, self.PLACE))
